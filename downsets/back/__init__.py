@@ -1,0 +1,1 @@
+"""From lots back to orders, and orders that are lattices."""

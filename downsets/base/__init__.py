@@ -1,0 +1,1 @@
+"""Words, orders and lots."""

@@ -1,0 +1,1 @@
+"""Line-ups: the ways through the closed lots."""

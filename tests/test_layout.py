@@ -1,0 +1,121 @@
+"""The interface: each name in its own file, with its arguments, and nothing else in the folder."""
+
+import ast
+import importlib
+import inspect
+import pathlib
+import unittest
+
+from downsets.base.orders import Order
+
+PACKAGE = pathlib.Path(__file__).parent.parent / "downsets"
+FILES = sorted(PACKAGE.rglob("*.py"))
+
+ERRORS = (
+    "OrderError", "InvalidOrder", "InvalidLot", "InvalidLineup", "InvalidOperation", "ParseError", "UnknownPlace",
+    "InvalidNumber", "Circle", "TooMany", "NothingToUndo", "Refused")
+FUNCTIONS = {
+    "base.words": (
+        "is_place(value)", "is_fraction(value)", "fraction(numerator, denominator)", "is_lower(one, other)",
+        "added(*fractions)", "multiplied(*fractions)"),
+    "base.lots": (
+        "is_lot(order, value)", "is_closed(order, value)", "is_flat(order, value)", "is_chain(order, value)",
+        "closed_lots(order)", "flat_lots(order)", "closed_number(order)", "closed_by_size(order)", "tops(order, lot)",
+        "firsts(order, lot)", "rest(order, lot)", "union(order, lot, other)", "common(order, lot, other)",
+        "next_places(order, lot)", "last_places(order, lot)", "chains_up(order)"),
+    "back.families": (
+        "family_paper(places, lots)", "is_family_paper(places, lots, value)", "is_family(places, value)",
+        "order_of(places, lots)", "unparted(places, lots)", "completed(places, lots)", "own_lots(order)"),
+    "back.lattices": (
+        "join(order, one, other)", "meet(order, one, other)", "lowest(order)", "highest(order)", "is_lattice(order)",
+        "lattice_paper(order)", "is_lattice_paper(order, value)", "one_down(order)", "one_up(order)",
+        "does_split(order)", "split_paper(order)", "is_split_paper(order, value)", "lots_order(order, names)"),
+    "ways.lineups": (
+        "is_lineup(order, value)", "lineup_number(order)", "lineups(order)", "lineup_at(order, index)",
+        "index_of(order, lineup)", "next_lineup(order, lineup)", "ways_through(order, lot)",
+        "position_counts(order, place)"),
+    "ways.shares": (
+        "share(order, one, other)", "shares(order)", "share_ahead(order, place, lot)", "mean_position(order, place)",
+        "fair_pair(order)", "is_fair_pair(order, value)", "unlike_pairs(order, lineup, second)",
+        "swapped(order, lineup, index)", "swaps(order, lineup, second)", "is_swaps(order, lineup, second, value)"),
+}
+METHODS = (
+    "flat(places)", "chain(places)", "is_ahead(self, one, other)", "is_beside(self, one, other)",
+    "ahead(self, place)", "behind(self, place)", "up(self, place)", "down(self, place)",
+    "closure(self, lot, *, turned=False)", "within(self, lot)", "without(self, place)", "with_place(self, place)",
+    "renamed(self, names)", "with_pair(self, one, other)", "without_step(self, one, other)",
+    "is_part_of(self, other)")
+OPERATORS = (
+    "__init__", "__invert__", "__add__", "__rshift__", "__len__", "__contains__", "__iter__", "__eq__", "__str__")
+PROPERTIES = ("places", "pairs", "steps", "firsts", "tops", "is_flat", "is_chain")
+CONSTANTS = {
+    "base.words": {"MAX_LETTERS": 8}, "base.orders": {"MAX_PLACES": 7, "MAX_MADE": 40},
+    "base.lots": {"MAX_CLOSED": 4000}}
+
+
+class InterfaceTest(unittest.TestCase):
+    def test_functions_stand_in_their_files(self):
+        for name, told in FUNCTIONS.items():
+            module = importlib.import_module("downsets." + name)
+            for head in told:
+                function = getattr(module, head.partition("(")[0])
+                self.assertEqual(function.__module__, "downsets." + name)
+                self.assertEqual(function.__name__ + str(inspect.signature(function)), head)
+
+    def test_errors_stand_in_their_file(self):
+        module = importlib.import_module("downsets.errors")
+        for name in ERRORS:
+            self.assertEqual(getattr(module, name).__module__, "downsets.errors")
+
+    def test_the_class(self):
+        self.assertEqual(Order.__module__, "downsets.base.orders")
+        self.assertEqual(str(inspect.signature(Order)), "(places, ahead=())")
+        for head in METHODS:
+            name = head.partition("(")[0]
+            self.assertIn(name, vars(Order))
+            self.assertEqual(name + str(inspect.signature(getattr(Order, name))), head)
+        for name in OPERATORS + PROPERTIES:
+            self.assertIn(name, vars(Order))
+
+    def test_constants(self):
+        for name, told in CONSTANTS.items():
+            module = importlib.import_module("downsets." + name)
+            for constant, value in told.items():
+                self.assertEqual(getattr(module, constant), value)
+
+
+class FilesTest(unittest.TestCase):
+    def test_sizes(self):
+        for path in FILES:
+            lines = path.read_text().split("\n")
+            self.assertLess(len(lines), 401, path)
+            for line in lines:
+                self.assertLessEqual(len(line), 120, path)
+                self.assertTrue(all(" " <= sign <= "~" for sign in line), path)
+            for node in ast.walk(ast.parse(path.read_text())):
+                if isinstance(node, ast.FunctionDef):
+                    self.assertLessEqual(node.end_lineno - node.lineno + 1, 40, (path, node.name))
+
+    def test_imports(self):
+        library = {"math": {"gcd"}}
+        for path in FILES:
+            for node in ast.walk(ast.parse(path.read_text())):
+                self.assertNotIsInstance(node, ast.Import, path)
+                if isinstance(node, ast.ImportFrom):
+                    names = {name.name for name in node.names}
+                    if not node.module.startswith("downsets."):
+                        self.assertLessEqual(names, library.get(node.module, set()), path)
+                    for name in names if node.module.startswith("downsets.") else ():
+                        made = getattr(importlib.import_module(node.module), name)
+                        self.assertEqual(getattr(made, "__module__", node.module), node.module)
+
+    def test_the_folder(self):
+        for path in PACKAGE.rglob("*"):
+            if path.is_dir() and path.name != "__pycache__":
+                self.assertTrue((path / "__init__.py").exists(), path)
+            elif path.is_file() and path.parent.name != "__pycache__":
+                self.assertEqual(path.suffix, ".py")
+
+
+if __name__ == "__main__":
+    unittest.main()
