@@ -310,6 +310,7 @@ def spoilt(value):
         yield {**value, "zzz": "zzz"}
         for key in value:
             yield {name: value[name] for name in value if name != key}
+            yield {"zzz" if name == key else name: value[name] for name in value}
             for part in spoilt(value[key]):
                 yield {**value, key: part}
 

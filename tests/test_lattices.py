@@ -17,6 +17,8 @@ from tests.helper import (
 
 DIAMOND = Order.flat(("o",)) >> FLAT >> Order.flat(("z",))
 TWO = Order.chain(("b", "a"))
+# Here b and c have the same join and the same meet with x, but not with one another.
+WITHIN = Order.flat(("s",)) >> (SQUARE + Order(("x",))) >> Order.flat(("u",))
 
 
 def six_and_seven():
@@ -27,6 +29,7 @@ def six_and_seven():
         SQUARE >> Order(("x",)), SQUARE >> SQUARE.renamed({"a": "w", "b": "x", "c": "y", "d": "z"}).without("w"),
         PENT >> Order(("x", "y"), (("y", "x"),)), Order(("x",)) >> DIAMOND, DIAMOND >> Order.chain(("y", "x")),
         Order.flat(("s",)) >> Order.flat(tuple("defgh")) >> Order.flat(("u",)),
+        WITHIN, WITHIN.renamed(dict(zip("abcdsux", "ybcdsua"))), WITHIN.renamed(dict(zip("abcdsux", "mabnpqc"))),
         Order.flat(("s",)) >> (Order.chain(("p", "m")) + Order.chain(("c", "e", "d"))) >> Order.flat(("u",)),
     ]
 
@@ -217,11 +220,11 @@ class SplitTest(unittest.TestCase):
                 self.assertEqual(list(paper[2]), list(order.places))
 
     def test_fives_made_by_hand(self):
-        for order in (PENT, DIAMOND, SQUARE >> ONE.renamed({"a": "x"}), six_and_seven()[-1]):
+        for order in (PENT, DIAMOND, SQUARE >> ONE.renamed({"a": "x"}), WITHIN, six_and_seven()[-1]):
             for row in itertools.permutations(order.places, 5):
                 self.assertIs(is_split_paper(order, ("five", row)), slow_five(order, row), row)
-            for row in itertools.product(order.places[:3], repeat=5):
-                self.assertIs(is_split_paper(order, ("five", row)), False)
+            for row in itertools.product(order.places[-5:], repeat=5):
+                self.assertIs(is_split_paper(order, ("five", row)), slow_five(order, row), row)
 
     def test_inner_orders(self):
         for order in [order for order in lattices() + six_and_seven() if len(order) > 1 and slow_split(order)]:

@@ -197,7 +197,8 @@ class ReadingTest(unittest.TestCase):
         self.assertEqual(str(Order.chain(("a", "b", "c"))), "order of 3 places, 2 steps")
 
     def test_equality(self):
-        some = small_orders(3) + list(EXAMPLES) + [BOOLEAN, FORTY, FLAT_FORTY]
+        some = small_orders(3) + list(EXAMPLES) + [BOOLEAN, FORTY, FLAT_FORTY, Order(("b",)), Order(("c", "a"))]
+        some.append(VEE.renamed({"a": "x", "b": "y", "c": "z"}))
         for one in some:
             for other in some:
                 is_same = one.places == other.places and one.pairs == other.pairs

@@ -21,7 +21,7 @@ def family_paper(places, lots):
 def is_family_paper(places, lots, value):
     """Tell whether a value is a family paper of the lots."""
     names, marks = checked_marks(places, lots)
-    if not isinstance(value, tuple) or not value:
+    if not isinstance(value, tuple):
         return False
     if len(value) == 1:
         return value in bars_of_ends(names, marks)

@@ -1,6 +1,6 @@
 """Lattice orders, and which of them are made of the closed lots of an order."""
 
-from downsets.base.checks import bits_of, has_bit, is_place_of, is_within, need_place, spots
+from downsets.base.checks import all_bits, bits_of, has_bit, is_place_of, is_within, need_place, spots
 from downsets.base.lots import closed_bits_within, closed_lots, is_closed
 from downsets.base.orders import MAX_MADE, Order, are_different, made, need_order, step_rows
 from downsets.errors import InvalidOperation, TooMany
@@ -55,10 +55,10 @@ def lattice_paper(order):
 def is_lattice_paper(order, value):
     """Tell whether a value is a lattice paper of the order."""
     need_order(order)
-    if not isinstance(value, tuple) or not value:
+    if not isinstance(value, tuple):
         return False
     if len(value) == 2:
-        return isinstance(value[1], dict) and value == lattice_paper(order)
+        return value == lattice_paper(order)
     return len(value) == 4 and is_lattice_bar(order, value)
 
 
@@ -199,22 +199,18 @@ def first_five(order):
 
 def third_of_five(order, joins, meets, first, second):
     """Return the index of a place that makes a five with two others, or None."""
-    beside_both = beside_bits(order, first) & beside_bits(order, second)
-    ahead = has_bit(order.behind_bits[first], second)
-    if not ahead and not has_bit(beside_bits(order, first), second):
-        return None
-    for third in spots(beside_both):
+    is_ahead = has_bit(order.behind_bits[first], second)
+    for third in spots(beside_bits(order, first) & beside_bits(order, second)):
         ends = (joins[first][third], meets[first][third])
         if ends == (joins[second][third], meets[second][third]):
-            if ahead or ends == (joins[first][second], meets[first][second]):
+            if is_ahead or ends == (joins[first][second], meets[first][second]):
                 return third
     return None
 
 
 def beside_bits(order, at):
     """Return the bits of the places beside a place."""
-    full = (1 << len(order)) - 1
-    return full & ~(order.ahead_bits[at] | order.behind_bits[at] | (1 << at))
+    return all_bits(len(order)) & ~(order.ahead_bits[at] | order.behind_bits[at] | (1 << at))
 
 
 def is_five(order, value):
@@ -223,15 +219,14 @@ def is_five(order, value):
         return False
     if not all([is_place_of(order.places, place) for place in value]):
         return False
-    low, first, second, third, high = value
-    trio = [(first, third), (second, third)]
-    if len(set(value)) < 5 or not all([order.is_beside(one, other) for one, other in trio]):
+    if len(set(value)) < 5:
         return False
+    low, first, second, third, high = value
+    # Places whose meet is neither of them are beside one another.
+    duos = [(first, third), (second, third)]
     if not order.is_ahead(first, second):
-        if not order.is_beside(first, second):
-            return False
-        trio.append((first, second))
-    ends = [(meet(order, one, other), join(order, one, other)) for one, other in trio]
+        duos.append((first, second))
+    ends = [(meet(order, one, other), join(order, one, other)) for one, other in duos]
     return all([end == (low, high) for end in ends])
 
 
@@ -242,7 +237,7 @@ def are_inner_lots(order, inner, table):
     if not all([place in table and is_closed(inner, table[place]) for place in order]):
         return False
     bits = [bits_of(inner.places, table[place]) for place in order]
-    if len(set(bits)) != len(bits) or closed_bits_within(inner, len(bits)) != sorted(bits):
+    if closed_bits_within(inner, len(bits)) != sorted(bits):
         return False
     spans = range(len(bits))
     behind = order.behind_bits

@@ -100,9 +100,11 @@ def is_swaps(order, lineup, second, value):
         return False
     row = lineup
     for index in value:
-        if not is_swap_index(row, index) or not order.is_beside(row[index], row[index + 1]):
+        if not is_swap_index(row, index):
             return False
         row = exchanged(row, index)
+    # So few exchanges only lead to the second one if each is one of unlike
+    # places, and these are beside one another.
     return row == second
 
 
