@@ -53,6 +53,56 @@ CONSTANTS = {
     "base.lots": {"MAX_CLOSED": 4000}}
 
 
+CHANGERS = {"append", "clear", "extend", "insert", "pop", "remove", "reverse", "setdefault", "sort", "update"}
+
+
+def plain_names(node):
+    """The names that stand alone in a value, or as one side of a choice."""
+    if isinstance(node, ast.Name):
+        return {node.id}
+    if isinstance(node, ast.IfExp):
+        return plain_names(node.body) | plain_names(node.orelse)
+    if isinstance(node, ast.BoolOp):
+        return set().union(*[plain_names(part) for part in node.values])
+    if isinstance(node, ast.Call) and isinstance(node.func, ast.Name) and node.func.id in ("enumerate", "zip", "reversed"):
+        return set().union(*[plain_names(part) for part in node.args])
+    if isinstance(node, ast.Call) and isinstance(node.func, ast.Attribute) and node.func.attr in ("items", "keys", "values"):
+        return plain_names(node.func.value)
+    return set()
+
+
+def shared_names(function):
+    """Groups of the names that one list can have in a function."""
+    groups = []
+    for node in ast.walk(function):
+        if isinstance(node, ast.Assign):
+            group = plain_names(node.value) | {part.id for part in node.targets if isinstance(part, ast.Name)}
+            near = [other for other in groups if other & group]
+            groups = [other for other in groups if not other & group] + [group.union(*near)]
+    return groups
+
+
+def changed_names(node):
+    """The names of the lists and dicts that a row changes."""
+    if isinstance(node, ast.Call) and isinstance(node.func, ast.Attribute) and node.func.attr in CHANGERS:
+        return plain_names(node.func.value)
+    targets = getattr(node, "targets", []) + [getattr(node, "target", None)]
+    return set().union(*[plain_names(part.value) for part in targets if isinstance(part, ast.Subscript)])
+
+
+def walks_that_change(function):
+    """The rows of loops that change what they walk."""
+    groups = shared_names(function)
+    rows = []
+    for node in ast.walk(function):
+        if isinstance(node, ast.For):
+            walked = plain_names(node.iter)
+            walked = walked.union(*[group for group in groups if group & walked])
+            inner = [part for row in node.body for part in ast.walk(row)]
+            rows.extend([node.lineno for part in inner if changed_names(part) & walked])
+    return rows
+
+
 class InterfaceTest(unittest.TestCase):
     def test_functions_stand_in_their_files(self):
         for name, told in FUNCTIONS.items():
@@ -95,6 +145,15 @@ class FilesTest(unittest.TestCase):
             for node in ast.walk(ast.parse(path.read_text())):
                 if isinstance(node, ast.FunctionDef):
                     self.assertLessEqual(node.end_lineno - node.lineno + 1, 40, (path, node.name))
+
+    def test_loops_change_nothing_that_they_walk(self):
+        kept = ast.parse(
+            "def far(ways):\n while ways:\n  more = []\n  for way in ways:\n   more.append(way)\n  ways = more\n")
+        self.assertEqual(walks_that_change(kept), [4])
+        for path in FILES:
+            for node in ast.walk(ast.parse(path.read_text())):
+                if isinstance(node, ast.FunctionDef):
+                    self.assertEqual(walks_that_change(node), [], (path, node.name))
 
     def test_imports(self):
         library = {"math": {"gcd"}}

@@ -1,7 +1,7 @@
 """Lattice orders, and which of them are made of the closed lots of an order."""
 
-from downsets.base.checks import all_bits, bits_of, has_bit, is_place_of, is_within, need_place, spots
-from downsets.base.lots import closed_bits_within, closed_lots, is_closed
+from downsets.base.checks import bits_of, has_bit, is_place_of, is_within, need_place, own_rows, spots
+from downsets.base.lots import beside_bits, closed_bits_within, closed_lots, is_closed
 from downsets.base.orders import MAX_MADE, Order, are_different, made, need_order, step_rows
 from downsets.errors import InvalidOperation, TooMany
 
@@ -131,11 +131,6 @@ def lesser_first(places):
     return [(places[k], places[at]) for k in range(many) for at in range(k + 1, many)]
 
 
-def own_rows(rows):
-    """Return the rows with the bit of each place itself."""
-    return [rows[k] | (1 << k) for k in range(len(rows))]
-
-
 def bound(order, rows, one, other):
     """Return the join of two places, or with the rows ahead their meet, or None."""
     need_place(order.places, one)
@@ -206,11 +201,6 @@ def third_of_five(order, joins, meets, first, second):
             if is_ahead or ends == (joins[first][second], meets[first][second]):
                 return third
     return None
-
-
-def beside_bits(order, at):
-    """Return the bits of the places beside a place."""
-    return all_bits(len(order)) & ~(order.ahead_bits[at] | order.behind_bits[at] | (1 << at))
 
 
 def is_five(order, value):

@@ -5,7 +5,8 @@ has the place at index k of the ascending places. Unions and common parts are
 single steps then, and a part of a lot always has the lesser number.
 """
 
-from downsets.errors import InvalidLot, InvalidOperation, UnknownPlace
+from downsets.base.words import is_whole
+from downsets.errors import InvalidLot, InvalidNumber, InvalidOperation, UnknownPlace
 
 
 def is_place_of(places, value):
@@ -20,6 +21,25 @@ def is_lot_of(places, value):
     if not all([is_place_of(places, place) for place in value]):
         return False
     return all([value[k] < value[k + 1] for k in range(len(value) - 1)])
+
+
+def has_just_keys(places, value):
+    """Tell whether a value is a dict that has just the places as its keys."""
+    return isinstance(value, dict) and len(value) == len(places) and all([place in value for place in places])
+
+
+def are_numbers(places, value):
+    """Tell whether a value is a dict from just the places to integers."""
+    return has_just_keys(places, value) and all([is_whole(value[place]) for place in places])
+
+
+def are_parts(places, value):
+    """Tell whether a value is a tuple of lots, none empty, with each place in just one."""
+    if not isinstance(value, tuple):
+        return False
+    if not all([is_lot_of(places, lot) and len(lot) > 0 for lot in value]):
+        return False
+    return sorted([place for lot in value for place in lot]) == list(places)
 
 
 def need_place(places, place):
@@ -40,6 +60,12 @@ def need_lot(places, lot):
     """Refuse what is no lot of the places."""
     if not is_lot_of(places, lot):
         raise InvalidLot("no ascending tuple of places of the order")
+
+
+def need_many(many):
+    """Refuse what is no integer of at least 1."""
+    if not is_whole(many) or many < 1:
+        raise InvalidNumber(many)
 
 
 def has_bit(bits, at):
@@ -92,3 +118,8 @@ def followed_rows(rows):
     for k in range(len(rows)):
         rows = [row | rows[k] if has_bit(row, k) else row for row in rows]
     return rows
+
+
+def own_rows(rows):
+    """Return the rows of bits with the bit of each place itself."""
+    return [rows[k] | (1 << k) for k in range(len(rows))]

@@ -169,6 +169,16 @@ def closed_bits(order):
     return found
 
 
+def beside_bits(order, at):
+    """Return the bits of the places beside a place."""
+    return all_bits(len(order)) & ~(order.ahead_bits[at] | order.behind_bits[at] | (1 << at))
+
+
+def beside_rows(order):
+    """Return for each place the bits of the places beside it."""
+    return [beside_bits(order, at) for at in range(len(order))]
+
+
 def fitting_bits(order, bits):
     """Return the bits of the places that are beside no place of a lot."""
     fitting = all_bits(len(order))

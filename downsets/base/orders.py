@@ -1,7 +1,7 @@
 """Orders of places: which places must come ahead of which."""
 
-from downsets.base.checks import bit_rows, bits_of, followed_rows, has_bit, is_place_of, is_within
-from downsets.base.checks import lot_of, need_lot, need_place, need_two, spots, turned_rows
+from downsets.base.checks import bit_rows, bits_of, followed_rows, has_bit, has_just_keys, is_place_of
+from downsets.base.checks import is_within, lot_of, need_lot, need_place, need_two, spots, turned_rows
 from downsets.base.words import is_place
 from downsets.errors import Circle, InvalidLot, InvalidOperation, InvalidOrder
 
@@ -253,9 +253,7 @@ def is_pair(places, value):
 
 def are_names(places, value):
     """Tell whether a value is a dict from just the places to different places."""
-    if not isinstance(value, dict) or len(value) != len(places):
-        return False
-    return all([place in value for place in places]) and are_different(list(value.values()))
+    return has_just_keys(places, value) and are_different(list(value.values()))
 
 
 def shortest_circle(places, pairs):
@@ -274,7 +272,7 @@ def circle_from(start, pairs):
     reached = {start: True}
     while ways:
         longer = []
-        for way in ways:
+        for way in list(ways):
             for one, other in pairs:
                 if one == way[-1] and other == start:
                     return way
