@@ -2,6 +2,7 @@
 
 import copy
 import itertools
+import types
 
 from downsets import errors
 from downsets.back.lattices import lots_order
@@ -72,6 +73,9 @@ ODD_VALUES = (
     (("a", "b"),), [("a", "b")], (["a", "b"],), (("a", "b", "c"),), (("a", True),), {"a": {}}, {(): []}, {True: 1},
     DEEP, [[[[[[[[]]]]]]]], {"a": [{"b": ({"c": [None]},)}]},
     ("order", None), ("lattice", {}), ("none", "join", "a", "b"), ("five", ()), ("lots", None, {}),
+    ("lineups", ()), ("ring", ()), ("laying", {}), ("two", ()), ("two", (None, [], {}, ())), (3, (), {}), ({}, {}),
+    (None, {}), ((), ((),)), (("a",), [("a",)]), {"a": True}, {("a",): 1}, {("a",): True, (): 2}, {None: 1}, {1: 2},
+    {"a": (1, 2)}, {"a": [1, 2]}, {"a": (2, 1)}, {(): ((), ())}, {(("a",), ("a",)): "a"}, {"": 0}, {"a": -(10 ** 39)},
     Order(("a",)), Order.flat(("a", "b", "c")), (Order(("a",)),), [Order(("a",))], {"a": Order(("a",))},
     errors.InvalidOrder("a"), errors.TooMany(3),
 )
@@ -125,6 +129,31 @@ def no_lineups(order):
     rows = [row for row in itertools.permutations(places) if not is_good(row)]
     row = slow_lineups(order)[0]
     return odd_but(is_good) + rows + [list(row), row[:-1], row + row[-1:], row[:-1] + (1,), row[:-1] + ("zzz",)]
+
+
+def no_numbers(low, high=None):
+    """What is no integer from a low one to a high one, if there is one."""
+    def is_good(value):
+        return type(value) is int and low <= value and (high is None or value <= high)
+
+    return odd_but(is_good) + [low - 1, str(low), [low], (low,)] + ([] if high is None else [high + 1])
+
+
+def no_number_dicts(order, low=None, high=None):
+    """What is no dict from just the places to integers, from a low to a high one if there are such."""
+    least = 1 if low is None else low
+    good = {place: least for place in order}
+    first, last = order.places[0], order.places[-1]
+
+    def is_good(value):
+        return isinstance(value, dict) and set(value) == set(order.places) and all(
+            type(number) is int and (low is None or low <= number <= high) for number in value.values())
+
+    bad = [list(good.items()), tuple(good.items()), tuple(good), {**good, "zzz": least}, {**good, None: least}]
+    bad += [{place: least for place in order.places[1:]}, {"zzz" if place == first else place: least for place in order}]
+    for value in (None, True, False, "1", (1,), [1], {}) + (() if low is None else (low - 1, high + 1)):
+        bad += [{**good, first: value}, {**good, last: value}]
+    return odd_but(is_good) + bad
 
 
 def no_indices(top):
@@ -191,6 +220,15 @@ def check_cases(test, call, *cases):
                 arguments[k] = case.bad[0]
                 arguments[at] = later
                 check_error(test, call, arguments, case, case.bad[0])
+
+
+def check_late(test, call, arguments, error):
+    """A generator raises its errors when its first element is requested."""
+    found = call(*arguments)
+    test.assertIsInstance(found, types.GeneratorType)
+    with test.assertRaises(error) as caught:
+        next(found)
+    test.assertIs(type(caught.exception), error)
 
 
 def check_judge(test, judge):
@@ -294,6 +332,8 @@ def spoilt(value):
     for other in (None, True, False, 0, 1, "zzz", (), [], {}):
         if not same(value, other):
             yield other
+    if type(value) is int:
+        yield from (value + 1, value - 1, str(value), (value,), 10 ** 39)
     if isinstance(value, tuple):
         yield list(value)
         yield value + value[-1:]
@@ -311,6 +351,12 @@ def spoilt(value):
         for key in value:
             yield {name: value[name] for name in value if name != key}
             yield {"zzz" if name == key else name: value[name] for name in value}
+            if isinstance(key, tuple):
+                yield {key[:-1] if name == key else name: value[name] for name in value}
+                yield {key[::-1] if name == key else name: value[name] for name in value}
+                yield {(1,) + key if name == key else name: value[name] for name in value}
+                yield {**value, key + (None,): value[key]}
+                yield {**value, (): value[key]}
             for part in spoilt(value[key]):
                 yield {**value, key: part}
 

@@ -7,7 +7,7 @@ import unittest
 
 MODULES = (
     "errors", "base.words", "base.orders", "base.lots", "back.families", "back.lattices", "ways.lineups",
-    "ways.shares")
+    "ways.shares", "wide.widths", "maps.lines", "maps.signs", "lines.two")
 TEXT = pathlib.Path(__file__).with_name("examples.txt").read_text()
 
 
@@ -33,7 +33,7 @@ class ExamplesTest(unittest.TestCase):
             else:
                 self.check_row(row[4:], lines.pop(0), names)
                 checked += 1
-        self.assertEqual(checked, 20)
+        self.assertEqual(checked, 33)
 
     def check_row(self, row, told, names):
         with self.subTest(row=row):

@@ -38,6 +38,25 @@ FUNCTIONS = {
         "share(order, one, other)", "shares(order)", "share_ahead(order, place, lot)", "mean_position(order, place)",
         "fair_pair(order)", "is_fair_pair(order, value)", "unlike_pairs(order, lineup, second)",
         "swapped(order, lineup, index)", "swaps(order, lineup, second)", "is_swaps(order, lineup, second, value)"),
+    "wide.widths": (
+        "width(order)", "height(order)", "width_paper(order)", "height_paper(order)", "is_width_paper(order, value)",
+        "is_height_paper(order, value)", "levels(order)", "level(order, place)", "longest_chains(order)",
+        "greatest_flats(order)", "lowest_flat(order)", "highest_flat(order)", "lower_flat(order, lot, second)",
+        "upper_flat(order, lot, second)"),
+    "maps.lines": (
+        "is_weak_map(order, many, value)", "is_strict_map(order, many, value)", "weak_maps(order, many)",
+        "strict_maps(order, many)", "weak_number(order, number)", "strict_number(order, number)",
+        "weak_chains(order)", "strict_chains(order)", "lots_of_map(order, many, numbers)", "map_of_lots(order, lots)",
+        "turns(order, lineup, second)", "turn_numbers(order)", "lineup_of_map(order, many, numbers, second)",
+        "maps_along(order, many, lineup, second)"),
+    "maps.signs": (
+        "sign(order, low, high)", "signs(order)", "chain_numbers(order, low, high)", "summed(order, numbers)",
+        "turned_back(order, sums)", "closed_sign(order, lot, other)", "whole_chains(order)", "whole_sign(order)",
+        "is_crosscut(order, value)", "crosscut_lots(order, crosscut)", "crosscut_sign(order, crosscut)"),
+    "lines.two": (
+        "common_order(rows)", "is_telling(order, value)", "telling_number(order)", "telling(order)",
+        "three_lineups(order)", "forced(order, one, other)", "two_paper(order)", "is_two_paper(order, value)",
+        "two_tellings(order)", "two_number(order)", "crossing(order, lineups)"),
 }
 METHODS = (
     "flat(places)", "chain(places)", "is_ahead(self, one, other)", "is_beside(self, one, other)",
@@ -50,7 +69,8 @@ OPERATORS = (
 PROPERTIES = ("places", "pairs", "steps", "firsts", "tops", "is_flat", "is_chain")
 CONSTANTS = {
     "base.words": {"MAX_LETTERS": 8}, "base.orders": {"MAX_PLACES": 7, "MAX_MADE": 40},
-    "base.lots": {"MAX_CLOSED": 4000}}
+    "base.lots": {"MAX_CLOSED": 4000}, "maps.lines": {"MAX_LINE": 60}, "maps.signs": {"MAX_CROSSCUT": 12},
+    "lines.two": {"MAX_TOLD": 10, "MAX_RING": 100}}
 
 
 CHANGERS = {"append", "clear", "extend", "insert", "pop", "remove", "reverse", "setdefault", "sort", "update"}
@@ -156,7 +176,7 @@ class FilesTest(unittest.TestCase):
                     self.assertEqual(walks_that_change(node), [], (path, node.name))
 
     def test_imports(self):
-        library = {"math": {"gcd"}}
+        library = {"math": {"comb", "gcd"}}
         for path in FILES:
             for node in ast.walk(ast.parse(path.read_text())):
                 self.assertNotIsInstance(node, ast.Import, path)

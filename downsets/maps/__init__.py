@@ -1,0 +1,1 @@
+"""Maps into a line, and signs."""

@@ -1,0 +1,1 @@
+"""The parts of an order: like lots, their tree, stretches."""

@@ -1,0 +1,1 @@
+"""Width and height: flat lots and chains that fit one another."""
