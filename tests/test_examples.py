@@ -7,7 +7,8 @@ import unittest
 
 MODULES = (
     "errors", "base.words", "base.orders", "base.lots", "back.families", "back.lattices", "ways.lineups",
-    "ways.shares", "wide.widths", "maps.lines", "maps.signs", "lines.two")
+    "ways.shares", "wide.widths", "maps.lines", "maps.signs", "lines.two", "parts.like",
+    "parts.along", "parts.stretches", "back.cuts")
 TEXT = pathlib.Path(__file__).with_name("examples.txt").read_text()
 
 
@@ -33,7 +34,7 @@ class ExamplesTest(unittest.TestCase):
             else:
                 self.check_row(row[4:], lines.pop(0), names)
                 checked += 1
-        self.assertEqual(checked, 33)
+        self.assertEqual(checked, 47)
 
     def check_row(self, row, told, names):
         with self.subTest(row=row):

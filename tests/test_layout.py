@@ -57,6 +57,22 @@ FUNCTIONS = {
         "common_order(rows)", "is_telling(order, value)", "telling_number(order)", "telling(order)",
         "three_lineups(order)", "forced(order, one, other)", "two_paper(order)", "is_two_paper(order, value)",
         "two_tellings(order)", "two_number(order)", "crossing(order, lineups)"),
+    "parts.like": (
+        "is_like(order, value)", "like_lots(order)", "is_crossing(order, lot, other)", "least_like(order, lot)",
+        "like_tree(order)", "quotient(order, lot)", "replaced(order, place, inner)", "is_prime(order)", "bend(order)",
+        "is_bend(order, value)"),
+    "parts.along": (
+        "heaviest_flat(order, weights)", "heaviest_chain(order, weights)", "is_heaviest_flat(order, weights, value)",
+        "is_heaviest_chain(order, weights, value)", "in_row(order, row)", "along(order, fact)"),
+    "parts.stretches": (
+        "is_laying(order, value)", "laying_paper(order)", "is_laying_paper(order, value)", "least_laying(order)",
+        "end_number(order)", "full_flat_lots(order)", "order_of_stretches(laying)", "is_crew_rows(order, many, value)",
+        "stretch_rows(order, many)", "is_stretch_rows(order, many, value)"),
+    "back.cuts": (
+        "uppers(order, lot)", "lowers(order, lot)", "cuts(order)", "cut_number(order)", "gaps(order)",
+        "is_cut(order, value)", "cut_of(order, place)", "join_cut(order, lot)", "meet_cut(order, lot)",
+        "filled(order)", "is_filled(order, value)", "laid_into(order, lattice, names)",
+        "is_laid_into(order, lattice, names, value)"),
 }
 METHODS = (
     "flat(places)", "chain(places)", "is_ahead(self, one, other)", "is_beside(self, one, other)",
@@ -70,7 +86,10 @@ PROPERTIES = ("places", "pairs", "steps", "firsts", "tops", "is_flat", "is_chain
 CONSTANTS = {
     "base.words": {"MAX_LETTERS": 8}, "base.orders": {"MAX_PLACES": 7, "MAX_MADE": 40},
     "base.lots": {"MAX_CLOSED": 4000}, "maps.lines": {"MAX_LINE": 60}, "maps.signs": {"MAX_CROSSCUT": 12},
-    "lines.two": {"MAX_TOLD": 10, "MAX_RING": 100}}
+    "lines.two": {"MAX_TOLD": 10, "MAX_RING": 100}, "parts.like": {"SHAPES": ("beside", "behind", "prime")},
+    "parts.along": {
+        "FACTS": ("closed", "height", "jumps", "lines", "lineups", "pairs", "width"), "MAX_WEIGHT": 1000},
+    "parts.stretches": {"MAX_END": 999999999999}}
 
 
 CHANGERS = {"append", "clear", "extend", "insert", "pop", "remove", "reverse", "setdefault", "sort", "update"}
