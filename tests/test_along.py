@@ -92,6 +92,30 @@ class HeaviestTest(unittest.TestCase):
                             self.assertIs(judge(order, weights, (told, lot, values)), good)
                 self.assertGreater(found, 0)
 
+    def test_all_dicts_of_lots(self):
+        for order in small_orders(3):
+            weights = {place: 1 for place in order}
+            lots = all_lots(order.places)
+            for call, judge, is_lot, is_part in KINDS:
+                weight = call(order, weights)[0]
+                for row in itertools.product(range(2), repeat=len(lots)):
+                    values = {part: many for part, many in zip(lots, row) if many}
+                    for lot in lots:
+                        if len(lot) == weight:
+                            self.assertIs(judge(order, weights, (weight, lot, values)), slow_judge(
+                                order, weights, (weight, lot, values), is_lot, is_part))
+
+    def test_parts_that_are_no_chains_or_not_flat(self):
+        weights = {place: 1 for place in PAIRS}
+        good = {("a", "b"): 1, ("c", "d"): 1}
+        self.assertIs(is_heaviest_flat(PAIRS, weights, (2, ("a", "c"), good)), True)
+        self.assertIs(is_heaviest_flat(PAIRS, weights, (2, ("a", "c"), {("a", "d"): 1, ("b", "c"): 1})), False)
+        self.assertIs(is_heaviest_chain(CROWN, weights, (2, ("a", "c"), good)), True)
+        self.assertIs(is_heaviest_chain(CROWN, weights, (2, ("a", "c"), {("a", "d"): 1, ("b", "c"): 1})), False)
+        for more in ({(): 0}, {("a",): 0}, {(): 1}, {("a",): 1}, {("a",): 1, ("b",): -1}, {("a",): -1}, {("a",): False}):
+            self.assertIs(is_heaviest_flat(PAIRS, weights, (2, ("a", "c"), {**good, **more})), False)
+            self.assertIs(is_heaviest_chain(CROWN, weights, (2, ("a", "c"), {**good, **more})), False)
+
     def test_triples_made_by_others(self):
         chance = random.Random(31)
         for order in SMALL[23::4] + spread_orders():

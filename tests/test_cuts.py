@@ -31,6 +31,29 @@ def opposed(many):
         (low[k], high[j]) for k in range(many) for j in range(many) if k != j])
 
 
+def wide_order():
+    """An order of 33 places with just 4,000 cuts.
+
+    Twelve places are below. Those ahead of one of the places above are a lot
+    that has the sixth place if it has the first five, and the eighth if it has
+    the first to the fourth, the sixth and the seventh. Such lots are all but
+    2 ** 6 + 2 ** 5 of 2 ** 12, and the common part of two is such a lot. Of one
+    place above ahead of another one, the lot is within that of the other one.
+    """
+    def is_good(lot):
+        return (5 in lot or not {0, 1, 2, 3, 4} <= lot) and (7 in lot or not {0, 1, 2, 3, 5, 6} <= lot)
+
+    lots = [frozenset(k for k in range(12) if bits >> k & 1) for bits in range(2 ** 12)]
+    lots = [lot for lot in lots if is_good(lot)]
+    whole = frozenset(range(12))
+    single = [lot for lot in lots if lot != whole and frozenset.intersection(
+        whole, *[other for other in lots if lot < other]) != lot]
+    assert (len(lots), len(single)) == (4000, 21)
+    pairs = [(NAMES[k], NAMES[12 + at]) for at, lot in enumerate(single) for k in lot]
+    pairs += [(NAMES[12 + k], NAMES[12 + at]) for k, at in itertools.permutations(range(21), 2) if single[k] < single[at]]
+    return with_pairs(FLAT_FORTY.within(NAMES[:33]), pairs)
+
+
 def slow_bound(order, lot, at):
     """The uppers (1) or the lowers (0) of a lot."""
     return tuple(x for x in order if all(x == y or ((y, x) if at else (x, y)) in order.pairs for y in lot))
@@ -351,6 +374,14 @@ class WrongArgumentsTest(unittest.TestCase):
         self.assertIs(is_filled(barred, (SQUARE, {})), False)
         for call in (laid_into, lambda *told: is_laid_into(*told, {})):
             check_error(self, call, [barred, SQUARE, {}], Case(None, [], InvalidOperation), None)
+
+    def test_just_so_many_cuts(self):
+        order = wide_order()
+        self.assertEqual((cut_number(order), len(cuts(order)), len(gaps(order))), (4000, 4000, 3967))
+        check_too_many(self, filled, order, limit=40)
+        more = with_pairs(FLAT_FORTY.within(NAMES[:34]), order.pairs)
+        for call in (cuts, cut_number, gaps, filled):
+            check_too_many(self, call, more)
 
     def test_more_than_forty_cuts(self):
         self.assertEqual(len(filled(FLAT_FORTY.within(NAMES[:38]))[0]), 40)

@@ -105,6 +105,19 @@ def distances(order, start):
     return far
 
 
+def walk(order, start, many):
+    """So many settings from one to the opposite one, each forced by the one ahead of it, or None."""
+    rows = [{start: None}]
+    while len(rows) < many:
+        rows.append({other: one for one in rows[-1] for other in forces_of(order)[one]})
+    ring = [start[::-1]]
+    if ring[0] not in rows[-1]:
+        return None
+    for row in rows[:0:-1]:
+        ring.append(row[ring[-1]])
+    return tuple(ring[::-1])
+
+
 def slow_forced(order, start):
     return tuple(sorted(distances(order, start)))
 
@@ -279,6 +292,17 @@ class PaperTest(unittest.TestCase):
         for order in SMALL:
             for pair in beside_pairs(order):
                 self.assertIs(is_two_paper(order, ("ring", (pair, pair[::-1]))), False)
+
+    def test_rings_of_a_hundred_settings(self):
+        for order in NEED_THREE:
+            start = two_paper(order)[1][0]
+            told = {many: walk(order, start, many) for many in (98, 99, 100, 101, 102)}
+            for many, ring in told.items():
+                if ring is not None:
+                    self.assertEqual((len(ring), slow_ring(order, ring)), (many, many <= 100))
+                    self.assertIs(is_two_paper(order, ("ring", ring)), many <= 100)
+            self.assertTrue(told[99] or told[100])
+        self.assertTrue(any(walk(order, two_paper(order)[1][0], 100) for order in NEED_THREE))
 
     def test_spoilt_papers(self):
         for order in (ONE, VEE, ZIG, FLAT, THREES, Order.chain(("b", "a"))):

@@ -174,7 +174,7 @@ def cut_names(order, found):
 def need_lying(order, lattice, names):
     """Refuse what is no order, no lattice order, and no dict by which the one lies in the other."""
     need_order(order)
-    if not isinstance(lattice, Order) or not is_lattice(lattice):
+    if not is_lattice(lattice):
         raise InvalidOrder("no lattice order")
     if not is_lying(order, lattice, names):
         raise InvalidOperation("no dict by which the order lies in the lattice order")

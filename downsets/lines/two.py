@@ -1,6 +1,6 @@
 """Line-ups that tell an order: two of them, or a ring that bars two, or three."""
 
-from downsets.base.checks import has_bit, need_two, spots
+from downsets.base.checks import has_bit, spots
 from downsets.base.lots import beside_rows, next_spots
 from downsets.base.orders import MAX_PLACES, are_different, is_pair, made, need_order
 from downsets.errors import InvalidOperation, TooMany
@@ -39,7 +39,6 @@ def telling(order):
 
 def three_lineups(order):
     """Return a telling of three line-ups, of which some can be equal."""
-    need_small(order)
     found = first_two(order)
     return first_three(order) if found is None else found + found[1:]
 
@@ -47,7 +46,6 @@ def three_lineups(order):
 def forced(order, one, other):
     """Return a setting and all settings that it forces, ascending."""
     need_order(order)
-    need_two(order.places, one, other)
     if not order.is_beside(one, other):
         raise InvalidOperation("the two places are not beside one another")
     need_few(order)
@@ -129,7 +127,7 @@ def common_pairs(rows):
     at = [{row[k]: k for k in range(len(row))} for row in rows]
     return tuple([
         (one, other) for one in places for other in places
-        if one != other and all([spot[one] < spot[other] for spot in at])
+        if all([spot[one] < spot[other] for spot in at])
     ])
 
 

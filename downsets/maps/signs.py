@@ -1,8 +1,7 @@
 """Signs of pairs, of closed lots and of the whole order, and crosscuts."""
 
 from downsets.back.lattices import is_lattice
-from downsets.base.checks import all_bits, are_numbers, bits_of, has_bit, is_lot_of, is_within, need_place, own_rows
-from downsets.base.checks import spots
+from downsets.base.checks import all_bits, are_numbers, bits_of, has_bit, is_within, need_place, own_rows, spots
 from downsets.base.lots import bare_bits, checked_closed_bits, is_flat, lined_spots
 from downsets.base.orders import need_order, step_rows
 from downsets.errors import InvalidOperation, TooMany
@@ -156,9 +155,7 @@ def alternating(counts):
 
 def is_crosscut_of(order, value):
     """Tell whether a value is a crosscut of what is known to be such a lattice order."""
-    if not is_lot_of(order.places, value) or not is_flat(order, value):
-        return False
-    if order.firsts[0] in value or order.tops[0] in value:
+    if not is_flat(order, value) or order.firsts[0] in value or order.tops[0] in value:
         return False
     return not does_pass_by(order, bits_of(order.places, value))
 

@@ -15,13 +15,14 @@ def flat_and_chains(order, weights):
     The weights stand in a list, each at least 1. The lot is told by its bits,
     the chains are a dict from the bits of each to its value.
     """
-    links, givers, takers = greatest_links(weights, order.behind_bits)
+    links, free = greatest_links(weights, order.behind_bits)
+    givers, takers = reached(free, order.behind_bits, links)
     flat = sum([1 << k for k in range(len(weights)) if k in givers and k not in takers])
     return flat, chains_along(weights, links)
 
 
 def greatest_links(weights, rows):
-    """Return as many links as can be, and who is reached when no more is left.
+    """Return as many links as can be, and how many units of each place stay free.
 
     Links are a dict from (one, other) to a number; each row has the bits of
     those that may stand behind one.
@@ -29,19 +30,23 @@ def greatest_links(weights, rows):
     free = list(weights)
     room = list(weights)
     links = {}
-    givers, takers = reached(free, rows, links)
-    ends = [at for at in takers if room[at] > 0]
-    while ends:
-        way = way_back(givers, takers, ends[0])
-        first, last = way[-1][0], ends[0]
+    way = way_to_room(free, room, rows, links)
+    while way:
+        first, last = way[-1][0], way[0][1]
         many = min([free[first], room[last]] + [links[link] for link in way[1::2]])
         for k in range(len(way)):
             links[way[k]] = links.get(way[k], 0) + (many if k & 1 == 0 else -many)
         free[first] = free[first] - many
         room[last] = room[last] - many
-        givers, takers = reached(free, rows, links)
-        ends = [at for at in takers if room[at] > 0]
-    return links, givers, takers
+        way = way_to_room(free, room, rows, links)
+    return links, free
+
+
+def way_to_room(free, room, rows, links):
+    """Return the links from free units to a taker with room, the last one first, or none."""
+    givers, takers = reached(free, rows, links)
+    ends = [at for at in takers if room[at] > 0]
+    return way_back(givers, takers, ends[0]) if ends else []
 
 
 def reached(free, rows, links):
@@ -88,7 +93,7 @@ def way_back(givers, takers, last):
 def chains_along(weights, links):
     """Return the dict from the bits of chains to how many units go along each."""
     spans = range(len(weights))
-    left = {link: links[link] for link in links if links[link] > 0}
+    left = {link: links[link] for link in links}
     begins = [weights[k] - sum([left.get((at, k), 0) for at in spans]) for k in spans]
     ends = [weights[k] - sum([left.get((k, at), 0) for at in spans]) for k in spans]
     chains = {}
