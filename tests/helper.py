@@ -7,6 +7,8 @@ import types
 from downsets import errors
 from downsets.back.lattices import lots_order
 from downsets.base.orders import Order
+from downsets.text.shell import Shell
+from downsets.use.live import Live
 
 ZIG = Order(("a", "b", "c", "d"), (("a", "c"), ("b", "c"), ("b", "d")))
 VEE = Order(("a", "b", "c"), (("a", "b"), ("a", "c")))
@@ -58,6 +60,11 @@ def with_closed(many_flat, chains):
     return order
 
 
+CHAIN_FORTY = with_pairs(FLAT_FORTY, zip(NAMES[1:], NAMES))
+# Twenty levels of two places, each level ahead of the next one.
+LEVELS = with_pairs(FLAT_FORTY, [
+    (one, other) for k in range(0, 38, 2) for one in NAMES[k:k + 2] for other in NAMES[k + 2:k + 4]])
+
 # 2 ** 5 * 5 ** 3 closed lots, and one more with a place ahead of all.
 JUST_4000 = with_closed(5, 3)
 JUST_4001 = with_pairs(
@@ -76,7 +83,11 @@ ODD_VALUES = (
     ("lineups", ()), ("ring", ()), ("laying", {}), ("two", ()), ("two", (None, [], {}, ())), (3, (), {}), ({}, {}),
     (None, {}), ((), ((),)), (("a",), [("a",)]), {"a": True}, {("a",): 1}, {("a",): True, (): 2}, {None: 1}, {1: 2},
     {"a": (1, 2)}, {"a": [1, 2]}, {"a": (2, 1)}, {(): ((), ())}, {(("a",), ("a",)): "a"}, {"": 0}, {"a": -(10 ** 39)},
+    ("heaviest", (), {}), ("mean", ("a",), {}), ("table", ("a",), {}), ("table", ("a",), {(): 0}), ("late", 1, ("a",)),
+    ("rows", (("a",),), ()), ("lineup", ("a",)), ("width", 1), ("width", -1), ("lineups", True), ("beside", "a", "a"),
+    {("a", "b"): 1}, {("a", "a"): 1}, {"a": 1}, {"a": 10 ** 12}, "a:1", "a b\na<b",
     Order(("a",)), Order.flat(("a", "b", "c")), (Order(("a",)),), [Order(("a",))], {"a": Order(("a",))},
+    Live(Order(("a",))), Live(Order.chain(("a", "b"))), Shell(), [Shell()],
     errors.InvalidOrder("a"), errors.TooMany(3),
 )
 
@@ -89,7 +100,17 @@ def same(one, other):
         return len(one) == len(other) and all(map(same, one, other))
     if isinstance(one, dict):
         return list(one) == list(other) and all(same(one[key], other[key]) for key in one)
+    if isinstance(one, Shell):
+        return one.live() == other.live() and len(one) == len(other)
     return one == other
+
+
+def is_key(value):
+    """Whether a dict can have it as a key."""
+    try:
+        return hash(value) is not None
+    except TypeError:
+        return False
 
 
 def odd_but(good):
@@ -189,6 +210,10 @@ def closed_case(order, lot):
 
 def lineup_case(order, lineup):
     return Case(lineup, no_lineups(order), errors.InvalidLineup)
+
+
+def weights_case(order, weights, low, high):
+    return Case(weights, no_number_dicts(order, low, high), errors.InvalidOperation)
 
 
 def free_case(value):

@@ -1,12 +1,15 @@
 """The interface: each name in its own file, with its arguments, and nothing else in the folder."""
 
 import ast
+import builtins
 import importlib
 import inspect
 import pathlib
 import unittest
 
 from downsets.base.orders import Order
+from downsets.text.shell import Shell
+from downsets.use.live import Live
 
 PACKAGE = pathlib.Path(__file__).parent.parent / "downsets"
 FILES = sorted(PACKAGE.rglob("*.py"))
@@ -73,6 +76,39 @@ FUNCTIONS = {
         "is_cut(order, value)", "cut_of(order, place)", "join_cut(order, lot)", "meet_cut(order, lot)",
         "filled(order)", "is_filled(order, value)", "laid_into(order, lattice, names)",
         "is_laid_into(order, lattice, names, value)"),
+    "maps.cores": (
+        "loose(order)", "is_row(order, value)", "is_whole(order, value)", "core(order)", "led(order, row)",
+        "naming(order, target)", "is_naming(order, target, value)", "is_map(order, value)", "maps(order)",
+        "maps_number(order)", "fixed(order, images)", "fixed_sign(order, images)",
+        "does_precede(order, images, value)", "followed(order, images, others)", "free_map(order)"),
+    "heavy.weights": (
+        "weight_of(order, weights, lot)", "greatest_weight(order, weights)", "heaviest_lots(order, weights)",
+        "least_heaviest(order, weights)", "greatest_heaviest(order, weights)", "is_payments(order, value)",
+        "left_over(order, weights, payments)", "weight_paper(order, weights)",
+        "is_weight_paper(order, weights, value)", "heavy_classes(order, weights)", "heavy_order(order, weights)"),
+    "heavy.fractions": (
+        "length_of(order, lengths, lot)", "mean_of(order, weights, lengths, lot)",
+        "heaviest_at(order, weights, lengths, level)", "critical_fractions(order, weights, lengths)",
+        "nested_lots(order, weights, lengths)", "blocks(order, weights, lengths)",
+        "greatest_mean(order, weights, lengths)", "mean_paper(order, weights, lengths)",
+        "is_mean_paper(order, weights, lengths, value)"),
+    "heavy.costs": (
+        "ends(order, lengths, lineup)", "cost(order, weights, lengths, lineup)", "least_cost(order, weights, lengths)",
+        "cheapest_lineup(order, weights, lengths)", "cost_paper(order, weights, lengths)",
+        "is_cost_paper(order, weights, lengths, value)", "ladder(order, weights, lengths)",
+        "is_ladder(order, weights, lengths, value)", "does_go_along(order, lineup, lots)",
+        "cheapest_along(order, weights, lengths, lots)"),
+    "heavy.jumps": (
+        "jumps(order, lineup)", "jump_number(order)", "jump_lineup(order)", "jump_paper(order)",
+        "is_jump_paper(order, value)", "is_greedy(order, lineup)", "greedy_lineups(order)", "zigzag(order)",
+        "is_zigzag(order, value)", "is_in_time(order, lengths, deadlines, lineup)", "due_by(order, deadlines, time)",
+        "time_paper(order, lengths, deadlines)", "is_time_paper(order, lengths, deadlines, value)"),
+    "work.rows": (
+        "is_rows(order, value)", "fewest_rows(order)", "rows_of(order)", "rows_along(order, lineup)",
+        "lineup_along(order, rows)", "idle(order, rows)", "is_matching(order, value)", "greatest_matching(order)",
+        "is_bar(order, value)", "bar_number(order, lots)", "rows_paper(order)", "is_rows_paper(order, value)"),
+    "use.live": ("facts(order)", "is_claim(value)", "does_hold(order, claim)"),
+    "text.texts": ("is_kind(value)", "write(kind, value)", "read(kind, text)", "is_text(kind, value)"),
 }
 METHODS = (
     "flat(places)", "chain(places)", "is_ahead(self, one, other)", "is_beside(self, one, other)",
@@ -83,13 +119,28 @@ METHODS = (
 OPERATORS = (
     "__init__", "__invert__", "__add__", "__rshift__", "__len__", "__contains__", "__iter__", "__eq__", "__str__")
 PROPERTIES = ("places", "pairs", "steps", "firsts", "tops", "is_flat", "is_chain")
+LIVE_METHODS = (
+    "put(self, one, other)", "take(self, one, other)", "add(self, place)", "remove(self, place)", "turn(self)",
+    "rename(self, names)", "pin(self, claim)", "unpin(self, claim)", "undo(self, *, many=1)", "redo(self, *, many=1)",
+    "attempt(self)", "during(self, call)", "twin(self)")
+LIVE_OPERATORS = ("__init__", "__getitem__", "__contains__", "__len__", "__iter__", "__eq__", "__str__")
+LIVE_PROPERTIES = ("order", "pins", "log")
+SHELL_METHODS = ("tell(self, line)", "tell_all(self, lines)", "live(self)")
+CLASSES = (
+    (Order, "downsets.base.orders", "(places, ahead=())", METHODS, OPERATORS, PROPERTIES),
+    (Live, "downsets.use.live", "(order)", LIVE_METHODS, LIVE_OPERATORS, LIVE_PROPERTIES),
+    (Shell, "downsets.text.shell", "()", SHELL_METHODS, ("__init__", "__len__", "__call__"), ()))
 CONSTANTS = {
     "base.words": {"MAX_LETTERS": 8}, "base.orders": {"MAX_PLACES": 7, "MAX_MADE": 40},
     "base.lots": {"MAX_CLOSED": 4000}, "maps.lines": {"MAX_LINE": 60}, "maps.signs": {"MAX_CROSSCUT": 12},
     "lines.two": {"MAX_TOLD": 10, "MAX_RING": 100}, "parts.like": {"SHAPES": ("beside", "behind", "prime")},
     "parts.along": {
         "FACTS": ("closed", "height", "jumps", "lines", "lineups", "pairs", "width"), "MAX_WEIGHT": 1000},
-    "parts.stretches": {"MAX_END": 999999999999}}
+    "parts.stretches": {"MAX_END": 999999999999}, "heavy.weights": {"MAX_WEIGHT": 1000},
+    "heavy.fractions": {"MAX_LENGTH": 1000}, "heavy.jumps": {"MAX_TIME": 1000000},
+    "use.live": {"WORDS": ("closed", "core", "height", "lines", "lineups", "width")},
+    "text.texts": {
+        "KINDS": ("claim", "laying", "lineup", "lot", "lots", "order", "pairs", "payments", "weights")}}
 
 
 CHANGERS = {"append", "clear", "extend", "insert", "pop", "remove", "reverse", "setdefault", "sort", "update"}
@@ -156,15 +207,18 @@ class InterfaceTest(unittest.TestCase):
         for name in ERRORS:
             self.assertEqual(getattr(module, name).__module__, "downsets.errors")
 
-    def test_the_class(self):
-        self.assertEqual(Order.__module__, "downsets.base.orders")
-        self.assertEqual(str(inspect.signature(Order)), "(places, ahead=())")
-        for head in METHODS:
-            name = head.partition("(")[0]
-            self.assertIn(name, vars(Order))
-            self.assertEqual(name + str(inspect.signature(getattr(Order, name))), head)
-        for name in OPERATORS + PROPERTIES:
-            self.assertIn(name, vars(Order))
+    def test_classes(self):
+        for made, module, head, methods, operators, properties in CLASSES:
+            self.assertEqual(made.__module__, module)
+            self.assertEqual(str(inspect.signature(made)), head)
+            for told in methods:
+                name = told.partition("(")[0]
+                self.assertIn(name, vars(made))
+                self.assertEqual(name + str(inspect.signature(getattr(made, name))), told)
+            for name in operators + properties:
+                self.assertIn(name, vars(made))
+            for name in properties:
+                self.assertIsInstance(vars(made)[name], property)
 
     def test_constants(self):
         for name, told in CONSTANTS.items():
@@ -206,6 +260,17 @@ class FilesTest(unittest.TestCase):
                     for name in names if node.module.startswith("downsets.") else ():
                         made = getattr(importlib.import_module(node.module), name)
                         self.assertEqual(getattr(made, "__module__", node.module), node.module)
+
+    def test_imports_are_used_and_keep_their_names(self):
+        for path in FILES:
+            tree = ast.parse(path.read_text())
+            imports = {name.name for node in ast.walk(tree) if isinstance(node, ast.ImportFrom) for name in node.names}
+            read = {node.id for node in ast.walk(tree) if isinstance(node, ast.Name) and isinstance(node.ctx, ast.Load)}
+            self.assertLessEqual(imports, read, path)
+            bound = {node.id for node in ast.walk(tree) if isinstance(node, ast.Name) and isinstance(node.ctx, ast.Store)}
+            bound |= {node.arg for node in ast.walk(tree) if isinstance(node, ast.arg)}
+            self.assertEqual(bound & imports, set(), path)
+            self.assertEqual(bound & set(vars(builtins)), set(), path)
 
     def test_the_folder(self):
         for path in PACKAGE.rglob("*"):

@@ -181,7 +181,7 @@ def second_lineup(order, beside, row):
     """Return the line-up in which all beside places stand as they do not in a row."""
     late = 0
     ranks = []
-    for k in reversed(row):
+    for k in reversed(list(row)):
         ahead = order.ahead_bits[k] | (beside[k] & late)
         ranks.append((len(spots(ahead)), k))
         late = late | (1 << k)

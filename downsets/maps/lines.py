@@ -246,7 +246,7 @@ def lowering_moves(order, closed):
     """
     at = {closed[k]: k for k in range(len(closed))}
     moves = []
-    for k in reversed(lined_spots(order)):
+    for k in reversed(list(lined_spots(order))):
         taken = order.behind_bits[k] | (1 << k)
         moves.extend([(at[bits], at[bits & ~taken]) for bits in closed if has_bit(bits, k)])
     return moves

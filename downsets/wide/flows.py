@@ -1,9 +1,9 @@
-"""Heaviest flat lots, and the chains that bar heavier ones.
+"""Units of places linked to units of other places, as many as can be.
 
-Each place has as many units as it weighs. The units of a place are linked to
-units of places behind it, each unit to at most one behind and one ahead; the
-links are as many as can be, so that the units lie on as few chains as can be.
-Here all places are told by their indices.
+For heaviest flat lots each place has as many units as it weighs. The units of
+a place are linked to units of places behind it, each unit to at most one behind
+and one ahead; the links are as many as can be, so that the units lie on as few
+chains as can be. Here all places are told by their indices.
 """
 
 from downsets.base.checks import spots
@@ -15,20 +15,21 @@ def flat_and_chains(order, weights):
     The weights stand in a list, each at least 1. The lot is told by its bits,
     the chains are a dict from the bits of each to its value.
     """
-    links, free = greatest_links(weights, order.behind_bits)
+    links, free, _ = greatest_links(weights, weights, order.behind_bits)
     givers, takers = reached(free, order.behind_bits, links)
     flat = sum([1 << k for k in range(len(weights)) if k in givers and k not in takers])
     return flat, chains_along(weights, links)
 
 
-def greatest_links(weights, rows):
-    """Return as many links as can be, and how many units of each place stay free.
+def greatest_links(giving, taking, rows):
+    """Return as many links as can be, and the units of givers and takers that stay free.
 
-    Links are a dict from (one, other) to a number; each row has the bits of
-    those that may stand behind one.
+    The first lists tell how many units each place can give, and how many it can
+    take. Links are a dict from (giver, taker) to a number; each row has the
+    bits of those that may take from one.
     """
-    free = list(weights)
-    room = list(weights)
+    free = list(giving)
+    room = list(taking)
     links = {}
     way = way_to_room(free, room, rows, links)
     while way:
@@ -39,7 +40,7 @@ def greatest_links(weights, rows):
         free[first] = free[first] - many
         room[last] = room[last] - many
         way = way_to_room(free, room, rows, links)
-    return links, free
+    return links, free, room
 
 
 def way_to_room(free, room, rows, links):

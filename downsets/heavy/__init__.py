@@ -1,0 +1,1 @@
+"""Weights of closed lots, costs of line-ups, jumps and deadlines."""

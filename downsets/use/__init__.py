@@ -1,0 +1,1 @@
+"""Orders that are changed step by step."""

@@ -1,0 +1,1 @@
+"""Rows of places for two workers."""
