@@ -171,7 +171,8 @@ def no_number_dicts(order, low=None, high=None):
             type(number) is int and (low is None or low <= number <= high) for number in value.values())
 
     bad = [list(good.items()), tuple(good.items()), tuple(good), {**good, "zzz": least}, {**good, None: least}]
-    bad += [{place: least for place in order.places[1:]}, {"zzz" if place == first else place: least for place in order}]
+    bad += [{place: least for place in order.places[1:]},
+        {"zzz" if place == first else place: least for place in order}]
     for value in (None, True, False, "1", (1,), [1], {}) + (() if low is None else (low - 1, high + 1)):
         bad += [{**good, first: value}, {**good, last: value}]
     return odd_but(is_good) + bad

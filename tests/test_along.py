@@ -15,10 +15,10 @@ from downsets.parts.along import (
 from downsets.parts.like import like_lots, like_tree, quotient, replaced
 from downsets.ways.lineups import is_lineup, lineup_number
 from tests.helper import (
-    BOOLEAN, CROWN, EXAMPLES, FLAT, FLAT_FORTY, FORTY, JUST_4001, NAMES, NO_ORDERS, ODD_VALUES, ONE, PAIRS, SEVEN,
-    SQUARE, VEE, ZIG, Case, all_lots, check_cases, check_error, check_judge, check_spoilt, check_too_many,
-    five_orders, free_case, no_lineups, no_number_dicts, odd_but, order_case, same, slow_chain, slow_closed_lots,
-    slow_flat, slow_lineups, small_orders, spread_orders, with_pairs)
+    BOOLEAN, CHAIN_FORTY, CROWN, EXAMPLES, FLAT, FLAT_FORTY, FORTY, JUST_4001, LEVELS, NAMES, NO_ORDERS, ODD_VALUES,
+    ONE, PAIRS, SEVEN, SQUARE, VEE, ZIG, Case, all_lots, check_cases, check_error, check_judge, check_spoilt,
+    check_too_many, five_orders, free_case, no_lineups, no_number_dicts, odd_but, order_case, same, slow_chain,
+    slow_closed_lots, slow_flat, slow_lineups, small_orders, spread_orders)
 
 SMALL = small_orders()
 NESTED = Order(SEVEN, (
@@ -26,9 +26,6 @@ NESTED = Order(SEVEN, (
 # A prime order made of six places, and one more beside one of them.
 DOUBLED = Order(SEVEN, (("a", "c"), ("b", "c"), ("b", "d"), ("d", "f"), ("e", "f"), ("g", "f")))
 SOME = SMALL + five_orders(29) + spread_orders() + [NESTED, ~NESTED, DOUBLED, NESTED.without("f") + Order(("x",))]
-CHAIN_FORTY = with_pairs(FLAT_FORTY, zip(NAMES[1:], NAMES))
-LEVELS = with_pairs(FLAT_FORTY, [
-    (one, other) for k in range(0, 38, 2) for one in NAMES[k:k + 2] for other in NAMES[k + 2:k + 4]])
 KINDS = ((heaviest_flat, is_heaviest_flat, slow_flat, slow_chain), (heaviest_chain, is_heaviest_chain, slow_chain, slow_flat))
 
 

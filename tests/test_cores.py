@@ -14,7 +14,7 @@ from tests.helper import (
     BOOLEAN, CHAIN_FORTY, CROWN, EXAMPLES, FLAT, FLAT_FORTY, FORTY, JUST_4001, LEVELS, NAMES, NO_ORDERS, ODD_VALUES,
     ONE, PAIRS, SEVEN, SQUARE, VEE, ZIG, Case, all_orders, check_cases, check_error, check_judge, check_late,
     check_spoilt, check_too_many, five_orders, free_case, odd_but, order_case, same, slow_chain, small_orders,
-    spread_orders, with_pairs)
+    spread_orders)
 
 SMALL = small_orders()
 SOME = SMALL + five_orders(17) + spread_orders()
@@ -470,7 +470,8 @@ class WrongArgumentsTest(unittest.TestCase):
 
     def test_rows(self):
         bad = odd_but(lambda value: isinstance(value, tuple) and slow_row(VEE, value))
-        bad += [[("b", "a")], (("a", "b"),), (("b", "a"), ("b", "a")), (["b", "a"],), (("b", "zzz"),), (("b", "a", "c"),)]
+        bad += [[("b", "a")], (("a", "b"),), (("b", "a"), ("b", "a")), (["b", "a"],), (("b", "zzz"),),
+            (("b", "a", "c"),)]
         check_cases(self, led, order_case(VEE), Case((("b", "a"),), bad, InvalidOperation))
 
     def test_maps(self):

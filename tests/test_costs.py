@@ -169,7 +169,8 @@ class PaperTest(unittest.TestCase):
                 _, row, values = cost_paper(order, weights, lengths)
                 for other in slow_lineups(order)[:4]:
                     value = ("table", other, dict(reversed(values.items())))
-                    self.assertIs(is_cost_paper(order, weights, lengths, value), slow_paper(order, weights, lengths, value))
+                    self.assertIs(is_cost_paper(order, weights, lengths, value),
+                        slow_paper(order, weights, lengths, value))
                 for lot in values:
                     for step in (-1, 1, -10 ** 6, 10 ** 6):
                         value = ("table", row, {**values, lot: values[lot] + step})
@@ -191,7 +192,8 @@ class PaperTest(unittest.TestCase):
     def test_spoilt_papers(self):
         for order, weights, lengths in (
                 (ONE, {"a": 1}, {"a": 1}), (VEE, {"a": 0, "b": 10, "c": 1}, {"a": 1, "b": 1, "c": 1}),
-                (Order.chain(("b", "a")), {"a": -1, "b": 1}, {"a": 2, "b": 1}), (FLAT, {"a": 1, "b": 2, "c": 0}, {"a": 1, "b": 1, "c": 2})):
+                (Order.chain(("b", "a")), {"a": -1, "b": 1}, {"a": 2, "b": 1}),
+                (FLAT, {"a": 1, "b": 2, "c": 0}, {"a": 1, "b": 1, "c": 2})):
             check_spoilt(
                 self, lambda value: is_cost_paper(order, weights, lengths, value),
                 lambda value: slow_paper(order, weights, lengths, value), cost_paper(order, weights, lengths))

@@ -13,15 +13,14 @@ from downsets.base.orders import Order
 from downsets.errors import InvalidLot, InvalidOperation, InvalidOrder, UnknownPlace
 from downsets.lines.two import telling_number
 from tests.helper import (
-    BOOLEAN, CROWN, EXAMPLES, FLAT, FLAT_FORTY, FORTY, NAMES, NO_ORDERS, ODD_VALUES, ONE, PAIRS, PENT, SEVEN, SQUARE,
-    VEE, ZIG, Case, all_lots, check_cases, check_error, check_judge, check_spoilt, check_too_many, five_orders,
-    free_case, lot_case, names_for, no_lots, no_places, odd_but, order_case, place_case, same, small_orders,
-    spread_orders, with_pairs)
+    BOOLEAN, CHAIN_FORTY, CROWN, EXAMPLES, FLAT, FLAT_FORTY, FORTY, NAMES, NO_ORDERS, ODD_VALUES, ONE, PAIRS, PENT,
+    SEVEN, SQUARE, VEE, ZIG, Case, all_lots, check_cases, check_error, check_judge, check_spoilt, check_too_many,
+    five_orders, free_case, lot_case, names_for, no_lots, no_places, odd_but, order_case, place_case, same,
+    small_orders, spread_orders, with_pairs)
 
 SMALL = small_orders()
 SOME = SMALL + five_orders(29) + spread_orders()
 FEW = SMALL[::5] + [ZIG, VEE, SQUARE, CROWN, PAIRS, FLAT, ONE]
-CHAIN_FORTY = with_pairs(FLAT_FORTY, zip(NAMES[1:], NAMES))
 
 
 def opposed(many):

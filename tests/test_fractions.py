@@ -263,7 +263,8 @@ class WrongArgumentsTest(unittest.TestCase):
             check_cases(self, length_of, order_case(order), lengths, lot_case(order, ("a",)))
             lots = Case(("a",), no_lots(order) + [()], InvalidLot)
             check_cases(self, mean_of, order_case(order), weights, lengths, lots)
-            levels = odd_but(is_fraction) + [(2, 4), (1, 0), (1, -1), (0, 2), (True, 1), (1, True), [1, 2], (1,), (1, 2, 3)]
+            levels = odd_but(is_fraction) + [(2, 4), (1, 0), (1, -1), (0, 2), (True, 1), (1, True), [1, 2], (1,),
+                (1, 2, 3)]
             check_cases(
                 self, heaviest_at, order_case(order), weights, lengths, Case((1, 2), levels, InvalidOperation))
 

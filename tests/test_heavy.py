@@ -13,8 +13,8 @@ from downsets.heavy.weights import (
 from tests.helper import (
     BOOLEAN, CHAIN_FORTY, CROWN, EXAMPLES, FLAT, FLAT_FORTY, FORTY, JUST_4000, JUST_4001, LEVELS, NAMES, ODD_VALUES,
     ONE, PAIRS, SEVEN, VEE, ZIG, Case, all_lots, check_cases, check_judge, check_spoilt, check_too_many, five_orders,
-    free_case, is_key, lot_case, odd_but, order_case, same, slow_closed, slow_closed_lots, small_orders, spread_orders,
-    weights_case, with_pairs)
+    free_case, is_key, lot_case, odd_but, order_case, same, slow_closed, slow_closed_lots, small_orders,
+    spread_orders, weights_case, with_pairs)
 
 SMALL = small_orders()
 SOME = SMALL + five_orders(37) + spread_orders()
@@ -159,7 +159,7 @@ class HeaviestTest(unittest.TestCase):
                 self.check_ends(order, weights, payments, least, greatest)
 
     def check_ends(self, order, weights, payments, least, greatest):
-        """What [17.3] says of heaviest lots: none that lacks a place of the least one, or has more than the greatest."""
+        """[17.3]: what a heaviest lot must have is the least one, and what none can have the greatest one lacks."""
         left = slow_left(weights, payments)
         must = {place for place in order if left[place] > 0}
         grown = None
@@ -347,7 +347,8 @@ class WrongArgumentsTest(unittest.TestCase):
     def test_payments(self):
         good = {"a": 1, "b": 2, "c": 3}
         bad = odd_but(lambda value: slow_payments(VEE, value))
-        bad += [{("a", "b"): 1}, {("b", "a"): 0}, {("b", "a"): True}, {("b", "c"): 1}, {("b", "b"): 1}, {"b": 1}, [("b", "a")]]
+        bad += [{("a", "b"): 1}, {("b", "a"): 0}, {("b", "a"): True}, {("b", "c"): 1}, {("b", "b"): 1}, {"b": 1},
+            [("b", "a")]]
         payments = Case({("b", "a"): 1}, bad, InvalidOperation)
         check_cases(self, left_over, order_case(VEE), weights_case(VEE, good, -1000, 1000), payments)
         check_cases(self, is_payments, order_case(VEE), free_case({}))

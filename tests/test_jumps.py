@@ -168,13 +168,12 @@ class JumpsTest(unittest.TestCase):
                 self.assertIn(fewest, (None, jump_number(order.within(lot))))
 
     def test_many_places(self):
-        for order, fewest in ((TOPS_4000, 4), (TOPS_4001, 4), (CHAIN_FORTY, 0), (LEVELS, 20), (chains_beside(3, 4, 5), 2)):
-            if order is not TOPS_4001:
-                paper = jump_paper(order)
-                self.assertEqual(jump_number(order), fewest)
-                self.assertEqual(len(jumps(order, jump_lineup(order))), fewest)
-                self.assertEqual(len(jumps(order, paper[1])), fewest)
-                self.assertIs(is_jump_paper(order, paper), True)
+        for order, fewest in ((TOPS_4000, 4), (CHAIN_FORTY, 0), (LEVELS, 20), (chains_beside(3, 4, 5), 2)):
+            paper = jump_paper(order)
+            self.assertEqual(jump_number(order), fewest)
+            self.assertEqual(len(jumps(order, jump_lineup(order))), fewest)
+            self.assertEqual(len(jumps(order, paper[1])), fewest)
+            self.assertIs(is_jump_paper(order, paper), True)
         self.assertEqual(len(jump_paper(TOPS_4000)[2]), 4000)
 
 
@@ -272,6 +271,11 @@ class GreedyTest(unittest.TestCase):
                 self.assertIs(is_zigzag(ZIG, value), slow_zigzag(ZIG, value))
         self.assertIsNotNone(zigzag(BOOLEAN))
         self.assertIsNone(zigzag(LEVELS))
+        whole = with_pairs(FLAT_FORTY, itertools.product(NAMES[:20], NAMES[20:]))
+        self.assertIsNone(zigzag(whole))
+        less = whole.without_step(NAMES[7], NAMES[31])
+        self.assertIs(is_zigzag(less, zigzag(less)), True)
+        self.assertEqual((zigzag(less)[0], zigzag(less)[3]), (NAMES[7], NAMES[31]))
 
 
 class TimeTest(unittest.TestCase):

@@ -9,8 +9,8 @@ from downsets.parts import like
 from downsets.parts.like import (
     bend, is_bend, is_crossing, is_like, is_prime, least_like, like_lots, like_tree, quotient, replaced)
 from tests.helper import (
-    BOOLEAN, CROWN, EXAMPLES, FLAT, FLAT_FORTY, FORTY, JUST_4000, JUST_4001, NAMES, NO_ORDERS, ONE, PAIRS, SEVEN,
-    SQUARE, VEE, ZIG, Case, all_lots, check_cases, check_error, check_judge, check_spoilt, check_too_many,
+    BOOLEAN, CHAIN_FORTY, CROWN, EXAMPLES, FLAT, FLAT_FORTY, FORTY, JUST_4000, JUST_4001, NAMES, NO_ORDERS, ONE,
+    PAIRS, SEVEN, VEE, ZIG, Case, all_lots, check_cases, check_error, check_judge, check_spoilt, check_too_many,
     five_orders, free_case, lot_case, no_lots, no_places, odd_but, order_case, place_case, same, small_orders,
     spread_orders, with_pairs)
 
@@ -19,7 +19,6 @@ SMALL = small_orders()
 NESTED = Order(SEVEN, (
     ("a", "d"), ("b", "d"), ("c", "d"), ("a", "b"), ("c", "e"), ("c", "f"), ("c", "g"), ("e", "g"), ("f", "g")))
 SOME = SMALL + five_orders(29) + spread_orders() + [NESTED, ~NESTED]
-CHAIN_FORTY = with_pairs(FLAT_FORTY, zip(NAMES[1:], NAMES))
 # A row of forty places in which each one is beside its neighbours, and ahead of all later ones.
 PRIME_FORTY = with_pairs(FLAT_FORTY, list(zip(NAMES, NAMES[2:])) + list(zip(NAMES, NAMES[3:])))
 

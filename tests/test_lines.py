@@ -13,14 +13,13 @@ from downsets.maps.lines import (
     strict_number, turn_numbers, turns, weak_chains, weak_maps, weak_number)
 from downsets.wide.widths import height
 from tests.helper import (
-    BOOLEAN, CROWN, EXAMPLES, FLAT, FLAT_FORTY, FORTY, JUST_4000, JUST_4001, NAMES, NO_ORDERS, ONE, PAIRS, SEVEN,
-    SQUARE, VEE, ZIG, Case, all_lots, check_cases, check_error, check_judge, check_late, check_spoilt,
-    check_too_many, five_orders, free_case, lineup_case, no_lineups, no_number_dicts, no_numbers, odd_but,
-    order_case, same, slow_closed_lots, slow_lineups, small_orders, spread_orders, with_pairs)
+    BOOLEAN, CHAIN_FORTY, CROWN, EXAMPLES, FLAT, FLAT_FORTY, FORTY, JUST_4000, JUST_4001, NAMES, NO_ORDERS, ONE,
+    PAIRS, SEVEN, SQUARE, VEE, ZIG, Case, all_lots, check_cases, check_error, check_judge, check_late, check_spoilt,
+    check_too_many, five_orders, free_case, lineup_case, no_lineups, no_number_dicts, no_numbers, odd_but, order_case,
+    same, slow_closed_lots, slow_lineups, small_orders, spread_orders, with_pairs)
 
 SMALL = small_orders()
 SOME = SMALL + five_orders(29) + spread_orders()
-CHAIN_FORTY = with_pairs(FLAT_FORTY, zip(NAMES[1:], NAMES))
 TWO_CHAINS = with_pairs(FLAT_FORTY, list(zip(NAMES[:20], NAMES[1:20])) + list(zip(NAMES[20:], NAMES[21:])))
 
 

@@ -29,7 +29,9 @@ def slow_lines(order):
     for many in (1, 2):
         for some in itertools.combinations(rows, many):
             at = [{place: k for k, place in enumerate(row)} for row in some]
-            common = {pair for pair in itertools.permutations(order, 2) if all(spot[pair[0]] < spot[pair[1]] for spot in at)}
+            common = {
+                (one, other) for one, other in itertools.permutations(order, 2)
+                if all(spot[one] < spot[other] for spot in at)}
             if common == set(order.pairs):
                 return many
     return 3
@@ -216,7 +218,8 @@ class FactsTest(unittest.TestCase):
             self.assertIs(is_claim(value), True)
         bad = [("ahead", "a", "a"), ("ahead", "a"), ("ahead", "a", "b", "c"), ("ahead", "a", 1), ("ahead", "A", "b"),
                ("width", -1), ("width", True), ("width", "1"), ("width",), ("width", 1, 1), ("depth", 1), ("Width", 1),
-               ["width", 1], (), ("width", None), ("beside", "a", "ninelette"), ("lineups", [1]), (["width"], 1), "width 1"]
+               ["width", 1], (), ("width", None), ("beside", "a", "ninelette"), ("lineups", [1]), (["width"], 1),
+               "width 1"]
         for value in bad:
             self.assertIs(is_claim(value), False, value)
         for value in ODD_VALUES:
@@ -229,13 +232,15 @@ class FactsTest(unittest.TestCase):
     def test_claims_that_hold(self):
         for order in SMALL[::3] + spread_orders()[2:3]:
             known = slow_facts(order)
-            for word, one, other in itertools.product(("ahead", "beside"), order.places + ("z",), order.places + ("z",)):
+            names = order.places + ("z",)
+            for word, one, other in itertools.product(("ahead", "beside"), names, names):
                 if one != other:
                     claim = (word, one, other)
                     self.assertIs(does_hold(order, claim), slow_hold(order.places, order.pairs, known, claim))
             for word in WORDS:
                 for many in {0, known[word] - 1, known[word], known[word] + 1}:
-                    self.assertIs(does_hold(order, (word, many)), many <= known[word] if word == "lineups" else many >= known[word])
+                    good = many <= known[word] if word == "lineups" else many >= known[word]
+                    self.assertIs(does_hold(order, (word, many)), good)
 
     def test_wrong_arguments(self):
         bad = odd_but(slow_claim) + [("ahead", "a", "a"), ("width", True), ["width", 1], ("depth", 1)]
@@ -357,7 +362,8 @@ class LiveTest(unittest.TestCase):
         live = Live(VEE)
         live.add("d")
         live.undo()
-        for call in (lambda: live.put("b", "b"), lambda: live.take("b", "c"), lambda: live.add("a"), lambda: live.remove("z"),
+        for call in (lambda: live.put("b", "b"), lambda: live.take("b", "c"), lambda: live.add("a"),
+            lambda: live.remove("z"),
                      lambda: live.rename({}), lambda: live.pin(("width", 0)), lambda: live.unpin(("width", 2))):
             with self.assertRaises((OrderError, UnknownPlace, Refused)):
                 call()
@@ -536,6 +542,12 @@ class LiveTest(unittest.TestCase):
         check("rename", Case(names, bad, InvalidOperation))
         bad = odd_but(slow_claim) + [("width", True), ["width", 2], ("depth", 1), ("ahead", "a", "a")]
         check("pin", Case(("width", 2), bad, InvalidOperation))
+        # True is no 1, also where claims are looked for.
+        live.pin(("core", 1))
+        for bad_claim in (("core", True), ["core", 1]):
+            with self.assertRaises(InvalidOperation):
+                live.unpin(bad_claim)
+        live.undo()
         live.pin(("width", 2))
         before.pin(("width", 2))
         check("unpin", Case(("width", 2), bad + [("width", 3)], InvalidOperation))

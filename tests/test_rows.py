@@ -83,7 +83,8 @@ def most_pairs(order, left=None):
 
 
 def slow_bar(order, value):
-    if not isinstance(value, tuple) or not all(any(same(lot, other) for other in all_lots(order.places)[1:]) for lot in value):
+    lots = all_lots(order.places)[1:]
+    if not isinstance(value, tuple) or not all(any(same(lot, other) for other in lots) for lot in value):
         return False
     return all((one, other) in order.pairs for lot, late in zip(value, value[1:]) for one in lot for other in late)
 
@@ -91,7 +92,8 @@ def slow_bar(order, value):
 def all_bars(order):
     found, edge = [()], [()]
     while edge:
-        edge = [bar + (lot,) for bar in edge for lot in all_lots(order.places)[1:] if slow_bar(order, bar[-1:] + (lot,))]
+        edge = [bar + (lot,) for bar in edge for lot in all_lots(order.places)[1:]
+            if slow_bar(order, bar[-1:] + (lot,))]
         found += edge
     return found
 
@@ -195,7 +197,8 @@ class RowsTest(unittest.TestCase):
 
     def test_spoilt_rows(self):
         for order in (ONE, VEE, LONE, SQUARE):
-            check_spoilt(self, lambda value: is_rows(order, value), lambda value: slow_rows(order, value), rows_of(order))
+            check_spoilt(self, lambda value: is_rows(order, value), lambda value: slow_rows(order, value),
+                rows_of(order))
 
 
 class MatchingTest(unittest.TestCase):
@@ -329,7 +332,8 @@ class WrongArgumentsTest(unittest.TestCase):
         check_cases(self, lineup_along, order_case(LONE), rows)
         check_cases(self, idle, order_case(LONE), rows)
         bad = odd_but(lambda value: slow_bar(LONE, value))
-        bad += [(("a",), ("b",)), (("d",), ("c",)), (("c",), ()), (("c",), ("d",), ("d",)), [("c",), ("d",)], (("b", "a"),)]
+        bad += [(("a",), ("b",)), (("d",), ("c",)), (("c",), ()), (("c",), ("d",), ("d",)), [("c",), ("d",)],
+            (("b", "a"),)]
         check_cases(self, bar_number, order_case(LONE), Case((("c",), ("d",)), bad, InvalidOperation))
 
 

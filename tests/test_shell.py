@@ -21,17 +21,19 @@ COMMANDS = (
     "redo 1", "closed", "core", "height", "lines", "lineups", "width", "share a b", "mean a", "lineup 1", "closure a",
     "heavy a:1 b:2 c:3", "rows", "show", "pins")
 NO_COMMANDS = (
-    "", " ", "jump", "Width", "width ", " width", "width 3", "turn a", "turn ", "rows 2", "show -", "pins -", "closed 1",
-    "put", "put a", "put a b c", "put  a b", "put a  b", "put a b ", "put A b", "put a 1", "take a", "take a-b", "add", "add ",
-    "add a b", "add A", "add ninelette", "remove", "remove 1", "pin", "pin ", "pin width", "pin width -1", "pin width 01",
-    "pin depth 1", "pin ahead a a", "pin ahead a", "pin width 1 ", "unpin", "unpin width x", "undo", "undo ", "undo 0",
-    "undo -1", "undo 01", "undo +1", "undo 1 1", "undo a", "undo 1000000000000", "redo", "redo 0", "redo 1.0", "lineup",
-    "lineup 0", "lineup -3", "lineup 00", "lineup 1 2", "share a", "share a b c", "share a B", "mean", "mean a b", "mean 1",
-    "closure", "closure ", "closure b a", "closure a a", "closure a  b", "closure /", "heavy", "heavy -", "heavy a", "heavy a:1 ",
-    "heavy b:1 a:1", "heavy a:01", "heavy a:1000000000000", "order", "order ", "order -", "order b a", "order a b;a<b",
-    "order a b; ", "order a b; -", "order a b; a<b; ", "order a b; a<b; a<b", "order a b; b<a; ", "order a b c; a<b a<c b<c",
-    "order a b; a<c", "order a b; a<b b<a", "order a b c d e f g h", "order a b\na<b", "width\n", "\nwidth", "put a b\n",
-    "rename a b", "twin", "undo 1; undo 1", "order a b ; a<b", "order a b;  a<b", "ORDER a", "order  a b")
+    "", " ", "jump", "Width", "width ", " width", "width 3", "turn a", "turn ", "rows 2", "show -", "pins -",
+    "closed 1", "put", "put a", "put a b c", "put  a b", "put a  b", "put a b ", "put A b", "put a 1", "take a",
+    "take a-b", "add", "add ", "add a b", "add A", "add ninelette", "remove", "remove 1", "pin", "pin ", "pin width",
+    "pin width -1", "pin width 01", "pin depth 1", "pin ahead a a", "pin ahead a", "pin width 1 ", "unpin",
+    "unpin width x", "undo", "undo ", "undo 0", "undo -1", "undo 01", "undo +1", "undo 1 1", "undo a",
+    "undo 1000000000000", "redo", "redo 0", "redo 1.0", "lineup", "lineup 0", "lineup -3", "lineup 00", "lineup 1 2",
+    "share a", "share a b c", "share a B", "mean", "mean a b", "mean 1", "closure", "closure ", "closure b a",
+    "closure a a", "closure a  b", "closure /", "heavy", "heavy -", "heavy a", "heavy a:1 ", "heavy b:1 a:1",
+    "heavy a:01", "heavy a:1000000000000", "order", "order ", "order -", "order b a", "order a b;a<b", "order a b; ",
+    "order a b; -", "order a b; a<b; ", "order a b; a<b; a<b", "order a b; b<a; ", "order a b c; a<b a<c b<c",
+    "order a b; a<c", "order a b; a<b b<a", "order a b c d e f g h", "order a b\na<b", "width\n", "\nwidth",
+    "put a b\n", "rename a b", "twin", "undo 1; undo 1", "order a b ; a<b", "order a b;  a<b", "ORDER a",
+    "order  a b")
 
 
 def news_text(news):
@@ -127,13 +129,15 @@ class TableTest(unittest.TestCase):
 
     def test_names_of_errors(self):
         shell = shell_of(VEE)
-        for line, told in (("put a a", "InvalidOperation"), ("put b a", "InvalidOperation"), ("put z a", "UnknownPlace"),
-                           ("take b c", "InvalidOperation"), ("add a", "InvalidOrder"), ("remove z", "UnknownPlace"),
-                           ("undo 9", "NothingToUndo"), ("redo 1", "NothingToUndo"), ("undo 999999999999", "NothingToUndo"),
-                           ("pin width 1", "Refused"), ("unpin width 2", "InvalidOperation"), ("pin width 2", None),
-                           ("pin width 2", "InvalidOperation"), ("lineup 3", "InvalidNumber"), ("lineup 999999999999", "InvalidNumber"),
-                           ("closure z", "InvalidLot"), ("heavy a:1", "InvalidOperation"), ("mean z", "UnknownPlace"),
-                           ("share a a", "InvalidOperation"), ("add d", "Refused"), ("jump", "ParseError"), ("put a", "ParseError")):
+        for line, told in (
+                ("put a a", "InvalidOperation"), ("put b a", "InvalidOperation"), ("put z a", "UnknownPlace"),
+                ("take b c", "InvalidOperation"), ("add a", "InvalidOrder"), ("remove z", "UnknownPlace"),
+                ("undo 9", "NothingToUndo"), ("redo 1", "NothingToUndo"), ("undo 999999999999", "NothingToUndo"),
+                ("pin width 1", "Refused"), ("unpin width 2", "InvalidOperation"), ("pin width 2", None),
+                ("pin width 2", "InvalidOperation"), ("lineup 3", "InvalidNumber"),
+                ("lineup 999999999999", "InvalidNumber"), ("closure z", "InvalidLot"),
+                ("heavy a:1", "InvalidOperation"), ("mean z", "UnknownPlace"), ("share a a", "InvalidOperation"),
+                ("add d", "Refused"), ("jump", "ParseError"), ("put a", "ParseError")):
             self.assertEqual(shell(line), "-" if told is None else "error " + told, line)
         self.assertEqual(len(shell), 2)
         one = shell_of(ONE)

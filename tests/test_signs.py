@@ -13,14 +13,13 @@ from downsets.maps.signs import (
     chain_numbers, closed_sign, crosscut_lots, crosscut_sign, is_crosscut, sign, signs, summed, turned_back,
     whole_chains, whole_sign)
 from tests.helper import (
-    BOOLEAN, CROWN, EXAMPLES, FLAT, FLAT_FORTY, FORTY, JUST_4001, NAMES, ODD_VALUES, ONE, PAIRS, PENT, SEVEN, SQUARE,
-    VEE, ZIG, Case, all_lots, check_cases, check_error, check_judge, check_spoilt, check_too_many, closed_case,
-    five_orders, free_case, names_for, no_closed, no_lots, no_number_dicts, odd_but, order_case, place_case, same,
-    slow_chain, slow_closed_lots, slow_flat, small_orders, spread_orders, with_pairs)
+    BOOLEAN, CHAIN_FORTY, CROWN, EXAMPLES, FLAT, FLAT_FORTY, FORTY, JUST_4001, NAMES, ODD_VALUES, ONE, PAIRS, PENT,
+    SEVEN, SQUARE, VEE, ZIG, Case, all_lots, check_cases, check_error, check_judge, check_spoilt, check_too_many,
+    closed_case, five_orders, free_case, names_for, no_closed, no_lots, no_number_dicts, odd_but, order_case,
+    place_case, same, slow_chain, slow_closed_lots, slow_flat, small_orders, spread_orders, with_pairs)
 
 SMALL = small_orders()
 SOME = SMALL + five_orders(29) + spread_orders()
-CHAIN_FORTY = with_pairs(FLAT_FORTY, zip(NAMES[1:], NAMES))
 KITE = Order.flat(("o",)) >> FLAT >> Order.flat(("z",))
 
 

@@ -12,13 +12,12 @@ from downsets.parts.stretches import (
     end_number, full_flat_lots, is_crew_rows, is_laying, is_laying_paper, is_stretch_rows, laying_paper, least_laying,
     order_of_stretches, stretch_rows)
 from tests.helper import (
-    BOOLEAN, CROWN, EXAMPLES, FLAT, FLAT_FORTY, FORTY, LETTERS, NAMES, NO_ORDERS, ODD_VALUES, ONE, PAIRS, SEVEN,
-    SQUARE, VEE, ZIG, Case, all_lots, check_cases, check_error, check_judge, check_spoilt, five_orders, free_case,
-    no_numbers, odd_but, order_case, same, slow_flat, small_orders, spread_orders, with_pairs)
+    BOOLEAN, CHAIN_FORTY, CROWN, EXAMPLES, FLAT, FLAT_FORTY, FORTY, LETTERS, NAMES, NO_ORDERS, ODD_VALUES, ONE, PAIRS,
+    SEVEN, SQUARE, VEE, ZIG, Case, all_lots, check_cases, check_error, check_judge, check_spoilt, five_orders,
+    free_case, no_numbers, odd_but, order_case, same, slow_flat, small_orders, spread_orders, with_pairs)
 
 SMALL = small_orders()
 END = 999999999999
-CHAIN_FORTY = with_pairs(FLAT_FORTY, zip(NAMES[1:], NAMES))
 # Each place is beside its neighbours and ahead of all later ones.
 LINE_FORTY = with_pairs(FLAT_FORTY, list(zip(NAMES, NAMES[2:])) + list(zip(NAMES, NAMES[3:])))
 SOME = SMALL + five_orders(13) + spread_orders()

@@ -69,7 +69,8 @@ class EqualTest(unittest.TestCase):
                 self.assertTrue(same(call(order), call(order)), call)
             weights, lengths = loads(order)
             for call in WEIGHED:
-                self.assertTrue(same(call(order, weights, lengths), call(again, dict(reversed(weights.items())), lengths)))
+                self.assertTrue(same(call(order, weights, lengths),
+                    call(again, dict(reversed(weights.items())), lengths)))
             self.assertEqual(read("order", write("order", order)), again)
 
     def test_turned_orders(self):
@@ -98,8 +99,10 @@ class EqualTest(unittest.TestCase):
             self.assertTrue(same([call(order) for call in NUMBERS], [call(other) for call in NUMBERS]))
             self.assertEqual(facts(order), facts(other))
             self.assertEqual(
-                sorted(tuple(sorted(names[place] for place in lot)) for lot in closed_lots(order)), list(closed_lots(other)))
-            self.assertEqual(sorted(tuple(names[place] for place in row) for row in greedy_lineups(order)), list(greedy_lineups(other)))
+                sorted(tuple(sorted(names[place] for place in lot)) for lot in closed_lots(order)),
+                list(closed_lots(other)))
+            self.assertEqual(sorted(tuple(names[place] for place in row) for row in greedy_lineups(order)),
+                list(greedy_lineups(other)))
             weights, lengths = loads(order)
             heavy, long = ({names[place]: told[place] for place in order} for told in (weights, lengths))
             self.assertEqual(critical_fractions(order, weights, lengths), critical_fractions(other, heavy, long))
@@ -135,12 +138,14 @@ class EqualTest(unittest.TestCase):
                 self.assertEqual(weak_number(beside, k), weak_number(one, k) * weak_number(other, k))
             first, second = loads(one), loads(other)
             weights, lengths = ({**early, **late} for early, late in zip(first, second))
-            self.assertEqual(greatest_weight(beside, weights), greatest_weight(one, first[0]) + greatest_weight(other, second[0]))
+            self.assertEqual(greatest_weight(beside, weights),
+                greatest_weight(one, first[0]) + greatest_weight(other, second[0]))
             apart = set(critical_fractions(one, *first)) | set(critical_fractions(other, *second))
             self.assertEqual(set(critical_fractions(beside, weights, lengths)), apart)
             # All of the second order ends later by the length of the first one.
             later = sum(first[1].values()) * sum(second[0].values())
-            self.assertEqual(least_cost(behind, weights, lengths), least_cost(one, *first) + least_cost(other, *second) + later)
+            self.assertEqual(least_cost(behind, weights, lengths),
+                least_cost(one, *first) + least_cost(other, *second) + later)
 
     def test_live_orders_and_texts(self):
         chance = random.Random(4)
@@ -238,7 +243,8 @@ class NotTrueTest(unittest.TestCase):
         chances = {}
         for row in lineups(ZIG):
             chances[row] = math.prod(
-                sum(1 for place in ZIG if place not in row[:k] and set(ZIG.ahead(place)) <= set(row[:k])) for k in range(4))
+                sum(1 for place in ZIG if place not in row[:k] and set(ZIG.ahead(place)) <= set(row[:k]))
+                for k in range(4))
         self.assertEqual(sorted(set(chances.values())), [4, 8])
         self.assertEqual(lineup_number(ZIG), len(chances))
 

@@ -12,17 +12,13 @@ from downsets.wide.widths import (
     greatest_flats, height, height_paper, highest_flat, is_height_paper, is_width_paper, level, levels,
     longest_chains, lower_flat, lowest_flat, upper_flat, width, width_paper)
 from tests.helper import (
-    BOOLEAN, CROWN, EXAMPLES, FLAT, FLAT_FORTY, FORTY, JUST_4000, JUST_4001, NAMES, NO_ORDERS, ODD_VALUES, ONE, PAIRS,
-    SEVEN, SQUARE, VEE, ZIG, Case, all_lots, check_cases, check_error, check_judge, check_late, check_spoilt,
-    check_too_many, five_orders, free_case, lot_case, no_lots, order_case, place_case, same, slow_chain,
-    slow_flat, small_orders, spread_orders, with_pairs)
+    BOOLEAN, CHAIN_FORTY, CROWN, EXAMPLES, FLAT, FLAT_FORTY, FORTY, JUST_4000, JUST_4001, LEVELS, NAMES, NO_ORDERS,
+    ODD_VALUES, ONE, PAIRS, SEVEN, SQUARE, VEE, ZIG, Case, all_lots, check_cases, check_error, check_judge,
+    check_late, check_spoilt, check_too_many, five_orders, free_case, lot_case, no_lots, order_case, place_case, same,
+    slow_chain, slow_flat, small_orders, spread_orders)
 
 SMALL = small_orders()
 SOME = SMALL + five_orders(9) + spread_orders()
-# Twenty levels of two places, each place of one ahead of both of the next one.
-LEVELS = with_pairs(FLAT_FORTY, [
-    (one, other) for k in range(0, 38, 2) for one in NAMES[k:k + 2] for other in NAMES[k + 2:k + 4]])
-CHAIN_FORTY = with_pairs(FLAT_FORTY, zip(NAMES[1:], NAMES))
 
 
 def slow_lots(order, is_good):

@@ -33,6 +33,11 @@ def are_numbers(places, value):
     return has_just_keys(places, value) and all([is_whole(value[place]) for place in places])
 
 
+def sum_over(numbers, lot):
+    """Return the sum of the numbers of the places of a lot."""
+    return sum([numbers[place] for place in lot])
+
+
 def are_parts(places, value):
     """Tell whether a value is a tuple of lots, none empty, with each place in just one."""
     if not isinstance(value, tuple):

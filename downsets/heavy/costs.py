@@ -67,6 +67,8 @@ def is_cost_paper(order, weights, lengths, value):
 def ladder(order, weights, lengths):
     """Return a ladder: the nested lots, without the first one."""
     need_weighed(order, weights, lengths)
+    # The nested lots are found without this walk, which only bars orders with
+    # too many closed lots.
     closed_bits(order)
     return nested_lots(order, weights, lengths)[1:]
 

@@ -1,6 +1,6 @@
 """Means of closed lots, and the critical fractions at which the heaviest lots change."""
 
-from downsets.base.checks import all_bits, are_numbers, lot_of, need_lot, spots
+from downsets.base.checks import all_bits, are_numbers, lot_of, need_lot, spots, sum_over
 from downsets.base.lots import is_closed
 from downsets.base.orders import need_order
 from downsets.base.words import fraction, is_fraction
@@ -16,7 +16,7 @@ def length_of(order, lengths, lot):
     need_order(order)
     need_lengths(order, lengths)
     need_lot(order.places, lot)
-    return sum([lengths[place] for place in lot])
+    return sum_over(lengths, lot)
 
 
 def mean_of(order, weights, lengths, lot):
@@ -96,7 +96,7 @@ def need_weighed(order, weights, lengths):
 
 def mean_within(weights, lengths, lot):
     """Return the mean of a lot that has places."""
-    return fraction(sum([weights[place] for place in lot]), sum([lengths[place] for place in lot]))
+    return fraction(sum_over(weights, lot), sum_over(lengths, lot))
 
 
 def weights_at(weights, lengths, level):

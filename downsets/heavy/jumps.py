@@ -1,8 +1,8 @@
 """Line-ups with few jumps, greedy line-ups, and line-ups in time."""
 
-from downsets.base.checks import all_bits, are_numbers, has_just_keys, is_place_of, lot_of, spots
+from downsets.base.checks import all_bits, are_numbers, has_just_keys, lot_of, spots, sum_over
 from downsets.base.lots import MAX_CLOSED, bare_bits, beside_bits, closed_bits, lined_spots
-from downsets.base.orders import need_order
+from downsets.base.orders import need_order, step_rows
 from downsets.base.words import is_whole
 from downsets.errors import InvalidNumber, InvalidOperation, TooMany
 from downsets.heavy.costs import ends_in
@@ -72,11 +72,13 @@ def greedy_lineups(order):
 def zigzag(order):
     """Return a zigzag, or None."""
     need_order(order)
-    for b, c in order.steps:
-        for a in order.down(c):
-            for d in order.up(b):
-                if is_zigzag_of(order, (a, b, c, d)):
-                    return (a, b, c, d)
+    up = step_rows(order.behind_bits)
+    down = step_rows(order.ahead_bits)
+    for b in range(len(order)):
+        for c in spots(up[b]):
+            for a in spots(down[c]):
+                for d in spots(up[b] & ~order.behind_bits[a]):
+                    return tuple([order.places[k] for k in (a, b, c, d)])
     return None
 
 
@@ -85,7 +87,8 @@ def is_zigzag(order, value):
     need_order(order)
     if not isinstance(value, tuple) or len(value) != 4:
         return False
-    return all([is_place_of(order.places, place) for place in value]) and is_zigzag_of(order, value)
+    a, b, c, d = value
+    return all([step in order.steps for step in ((a, c), (b, c), (b, d))]) and (a, d) not in order.pairs
 
 
 def is_in_time(order, lengths, deadlines, lineup):
@@ -109,7 +112,7 @@ def time_paper(order, lengths, deadlines):
     need_timed(order, lengths, deadlines)
     for time in sorted(set(list(deadlines.values()))):
         lot = due_lot(order, deadlines, time)
-        if length_within(lengths, lot) > time:
+        if sum_over(lengths, lot) > time:
             return ("late", time, lot)
     return ("lineup", urgent_lineup(order, deadlines))
 
@@ -196,12 +199,6 @@ def greedy_rows(order, row):
         yield from greedy_rows(order, longer)
 
 
-def is_zigzag_of(order, row):
-    """Tell whether four places are a zigzag."""
-    a, b, c, d = row
-    return all([step in order.steps for step in ((a, c), (b, c), (b, d))]) and (a, d) not in order.pairs
-
-
 def does_keep(lengths, deadlines, lineup):
     """Tell whether each place of a line-up ends at its deadline or earlier."""
     found = ends_in(lengths, lineup)
@@ -211,11 +208,6 @@ def does_keep(lengths, deadlines, lineup):
 def due_lot(order, deadlines, time):
     """Return the closure of the places with deadlines up to a time."""
     return order.closure(tuple([place for place in order if deadlines[place] <= time]))
-
-
-def length_within(lengths, lot):
-    """Return the sum of the lengths of the places of a lot."""
-    return sum([lengths[place] for place in lot])
 
 
 def urgent_lineup(order, deadlines):
@@ -233,6 +225,6 @@ def urgent_lineup(order, deadlines):
 
 def is_late(order, lengths, deadlines, time, lot):
     """Tell whether a lot is due by a time, and longer than this."""
-    if not is_whole(time) or not 1 <= time <= MAX_TIME or not isinstance(lot, tuple):
+    if not is_whole(time) or not 1 <= time <= MAX_TIME:
         return False
-    return lot == due_lot(order, deadlines, time) and length_within(lengths, lot) > time
+    return lot == due_lot(order, deadlines, time) and sum_over(lengths, lot) > time

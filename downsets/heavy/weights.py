@@ -1,7 +1,7 @@
 """Closed lots with the greatest weight, and payments that bar heavier ones."""
 
 from downsets.back.lattices import is_part
-from downsets.base.checks import all_bits, are_numbers, has_bit, lot_of, need_lot, spots
+from downsets.base.checks import all_bits, are_numbers, has_bit, lot_of, need_lot, spots, sum_over
 from downsets.base.checks import turned_rows
 from downsets.base.lots import closed_bits, is_closed
 from downsets.base.orders import is_pair, made, need_order
@@ -16,7 +16,7 @@ def weight_of(order, weights, lot):
     """Return the sum of the weights of the places of a lot."""
     need_order_and_weights(order, weights)
     need_lot(order.places, lot)
-    return sum([weights[place] for place in lot])
+    return sum_over(weights, lot)
 
 
 def greatest_weight(order, weights):
@@ -77,14 +77,14 @@ def is_weight_paper(order, weights, value):
     word, lot, payments = value
     if word != "heaviest" or not is_closed(order, lot) or not is_payments(order, payments):
         return False
-    return weight_of(order, weights, lot) == sum_above(list(left_at_places(weights, payments).values()))
+    return sum_over(weights, lot) == sum_above(list(left_at_places(weights, payments).values()))
 
 
 def heavy_classes(order, weights):
     """Return the classes of places that each heaviest closed lot has together, ascending."""
     need_order_and_weights(order, weights)
     groups = class_groups(order, heaviest_bits(order, weights))
-    return tuple(sorted([tuple(groups[least]) for least in groups]))
+    return tuple([tuple(groups[least]) for least in groups])
 
 
 def heavy_order(order, weights):

@@ -1,6 +1,6 @@
 """Heaviest flat lots and chains, and facts of an order along the tree of its nodes."""
 
-from downsets.base.checks import are_numbers, is_lot_of, lot_of, spots
+from downsets.base.checks import are_numbers, is_lot_of, lot_of, spots, sum_over
 from downsets.base.lots import closed_number, is_chain, is_flat, lined_spots
 from downsets.base.orders import MAX_PLACES, made, need_order
 from downsets.base.words import is_whole
@@ -20,7 +20,7 @@ def heaviest_flat(order, weights):
     need_order_and_weights(order, weights)
     bits, chains = flat_and_chains(order, [weights[place] for place in order])
     lot = lot_of(order.places, bits)
-    return (weight_of_lot(weights, lot), lot, valued_lots(order, chains))
+    return (sum_over(weights, lot), lot, valued_lots(order, chains))
 
 
 def heaviest_chain(order, weights):
@@ -28,7 +28,7 @@ def heaviest_chain(order, weights):
     need_order_and_weights(order, weights)
     ends = chain_weights(order, weights)
     lot = lot_of(order.places, heaviest_below(order, weights, ends))
-    return (weight_of_lot(weights, lot), lot, valued_lots(order, flats_between(order, weights, ends)))
+    return (sum_over(weights, lot), lot, valued_lots(order, flats_between(order, weights, ends)))
 
 
 def is_heaviest_flat(order, weights, value):
@@ -75,11 +75,6 @@ def need_order_and_weights(order, weights):
     need_order(order)
     if not are_numbers(order.places, weights) or not all([1 <= weights[place] <= MAX_WEIGHT for place in order]):
         raise InvalidOperation("no dict from just the places to weights")
-
-
-def weight_of_lot(weights, lot):
-    """Return the sum of the weights of the places of a lot."""
-    return sum([weights[place] for place in lot])
 
 
 def valued_lots(order, values):
@@ -131,7 +126,7 @@ def is_weighed(order, weights, value):
     if not isinstance(value, tuple) or len(value) != 3:
         return False
     weight, lot, values = value
-    if not is_whole(weight) or not is_lot_of(order.places, lot) or weight != weight_of_lot(weights, lot):
+    if not is_whole(weight) or not is_lot_of(order.places, lot) or weight != sum_over(weights, lot):
         return False
     return are_values(order, values) and do_sum_up(weights, weight, values)
 

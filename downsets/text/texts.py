@@ -17,7 +17,7 @@ MAX_LOTS = 4000
 
 def is_kind(value):
     """Tell whether a value is a kind."""
-    return isinstance(value, str) and value in KINDS
+    return value in KINDS
 
 
 def write(kind, value):
@@ -43,7 +43,6 @@ def read(kind, text):
 
 def is_text(kind, value):
     """Tell whether a value is a text of a kind."""
-    need_kind(kind)
     try:
         read(kind, value)
     except ParseError:
